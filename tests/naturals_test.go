@@ -99,7 +99,8 @@ func TestPromise3Values(t *testing.T) {
 	for _, n := range []int64{-1, impl.MaxValue + 1, math.MinInt64, math.MaxInt64} {
 		expect(t, show(impl.NaturalOf(n)), "[] 2")
 	}
-	for _, n := range [][]int64{{1, 0, 1}, {0, 0, 2}, {0, 1, 1}, {999999, 999999, 999999}, {0, 0, 0, 1}, repeat(999999, 40)} {
+	// The last but one is the power 64 of 2, which is 0 where int64 wraps around.
+	for _, n := range [][]int64{{1, 0, 1}, {0, 0, 2}, {0, 1, 1}, {999999, 999999, 999999}, {0, 0, 0, 1}, {551616, 73709, 446744, 18}, repeat(999999, 40)} {
 		expect(t, show(impl.SmallOf(n)), "0 5")
 	}
 }
