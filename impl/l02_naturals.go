@@ -26,20 +26,23 @@ func IsNatural(n []int64) bool {
 	if len(n) > MaxLimbs || len(n) > 0 && n[len(n)-1] == 0 {
 		return false
 	}
-	return areDigits(n, LimbBase)
+	return areBelow(n, LimbBase)
 }
 
-func areNaturals(lists ...[]int64) bool {
-	for _, n := range lists {
-		if !IsNatural(n) {
+func areNaturals(lists ...[]int64) bool { return eachIs(IsNatural, lists) }
+
+func eachIs(valid func([]int64) bool, lists [][]int64) bool {
+	for _, list := range lists {
+		if !valid(list) {
 			return false
 		}
 	}
 	return true
 }
 
-func areDigits(list []int64, base int64) bool {
-	return !slices.ContainsFunc(list, func(d int64) bool { return d < 0 || d >= base })
+// areBelow reports whether all numbers of a list are from 0 to limit - 1.
+func areBelow(list []int64, limit int64) bool {
+	return !slices.ContainsFunc(list, func(n int64) bool { return n < 0 || n >= limit })
 }
 
 // NaturalOf returns the natural with a value.
@@ -130,9 +133,7 @@ func SubtractNaturals(a, b []int64) ([]int64, int64) {
 	if compareLimbs(a, b) < 0 {
 		return nil, ErrRange
 	}
-	difference := slices.Clone(a)
-	addTimes(difference, b, -1)
-	return trimLimbs(difference), OK
+	return subtractLimbs(a, b), OK
 }
 
 // MultiplyNaturals returns a product.
@@ -191,31 +192,7 @@ func RootNatural(n []int64) ([]int64, int64) {
 	if !IsNatural(n) {
 		return nil, ErrInvalid
 	}
-	if len(n) == 0 {
-		return nil, OK
-	}
-	// Newton's method: from above the root, the values decrease until the root is reached.
-	root := aboveRoot(n)
-	for {
-		quotient, _ := divideLimbs(n, root)
-		next, _ := divideBySmall(addLimbs(root, quotient), 2)
-		if compareLimbs(next, root) >= 0 {
-			return root, OK
-		}
-		root = next
-	}
-}
-
-// aboveRoot returns a number not less than the root of n, which is not 0, and near it, so that few steps lead to the root.
-func aboveRoot(n []int64) []int64 {
-	pairs := (len(n) - 1) / 2
-	var top int64
-	for _, limb := range slices.Backward(n[2*pairs:]) {
-		top = top*LimbBase + limb
-	}
-	// Half as many bits, rounded up, make a power of 2 whose square is greater than top.
-	half := (bits.Len64(uint64(top)) + 1) / 2
-	return append(make([]int64, pairs), limbsOf(1<<half)...)
+	return rootLimbs(n), OK
 }
 
 // ValuationOf returns how often a number divides a natural.
@@ -226,15 +203,8 @@ func ValuationOf(n []int64, p int64) (int64, int64) {
 	if len(n) == 0 || p < 2 || p >= LimbBase {
 		return 0, ErrRange
 	}
-	var exponent int64
-	for {
-		quotient, rest := divideBySmall(n, p)
-		if rest != 0 {
-			return exponent, OK
-		}
-		n = quotient
-		exponent++
-	}
+	exponent, _ := takeFactors(n, p)
+	return exponent, OK
 }
 
 // DigitsOf returns the digits to a base.
@@ -256,7 +226,7 @@ func DigitsOf(n []int64, base int64) ([]int64, int64) {
 
 // FromDigits returns the natural with digits to a base.
 func FromDigits(digits []int64, base int64) ([]int64, int64) {
-	if base < 2 || base > LimbBase || !areDigits(digits, base) {
+	if base < 2 || base > LimbBase || !areBelow(digits, base) {
 		return nil, ErrRange
 	}
 	if len(digits) > MaxPower {
@@ -339,6 +309,18 @@ func addLimbs(a, b []int64) []int64 {
 	return trimLimbs(sum)
 }
 
+// subtractLimbs subtracts a number that is at most a.
+func subtractLimbs(a, b []int64) []int64 {
+	difference := slices.Clone(a)
+	addTimes(difference, b, -1)
+	return trimLimbs(difference)
+}
+
+func oneMore(n []int64) []int64 { return addLimbs(n, limbsOf(1)) }
+
+// oneLess needs a number that is not 0.
+func oneLess(n []int64) []int64 { return subtractLimbs(n, limbsOf(1)) }
+
 func multiplyLimbs(a, b []int64) []int64 {
 	product := make([]int64, len(a)+len(b))
 	for i, limb := range a {
@@ -402,4 +384,43 @@ func takeMultiple(part, b []int64) int64 {
 		times--
 	}
 	return times
+}
+
+func rootLimbs(n []int64) []int64 {
+	if len(n) == 0 {
+		return nil
+	}
+	// Newton's method: from above the root, the values decrease until the root is reached.
+	root := aboveRoot(n)
+	for {
+		quotient, _ := divideLimbs(n, root)
+		next, _ := divideBySmall(addLimbs(root, quotient), 2)
+		if compareLimbs(next, root) >= 0 {
+			return root
+		}
+		root = next
+	}
+}
+
+// aboveRoot returns a number not less than the root of n, which is not 0, and near it, so that few steps lead to the root.
+func aboveRoot(n []int64) []int64 {
+	pairs := (len(n) - 1) / 2
+	var top int64
+	for _, limb := range slices.Backward(n[2*pairs:]) {
+		top = top*LimbBase + limb
+	}
+	// Half as many bits, rounded up, make a power of 2 whose square is greater than top.
+	half := (bits.Len64(uint64(top)) + 1) / 2
+	return append(make([]int64, pairs), limbsOf(1<<half)...)
+}
+
+// takeFactors returns how often p divides a number that is not 0, and the number without these factors, which may be n itself.
+func takeFactors(n []int64, p int64) (int64, []int64) {
+	for count := int64(0); ; count++ {
+		quotient, rest := divideBySmall(n, p)
+		if rest != 0 {
+			return count, n
+		}
+		n = quotient
+	}
 }

@@ -125,19 +125,7 @@ func TestPromise2CompareLists(t *testing.T) {
 	ordered := [][]int64{nil, {math.MinInt64}, {-1, 5}, {0}, {0, 0}, {0, 0, -1}, {0, 1}, {1}, {1, 0}, {2}, {2, -9}, {math.MaxInt64}}
 	slices.SortFunc(ordered, func(a, b []int64) int { return int(impl.CompareLists(a, b)) })
 	expect(t, show(ordered), show([][]int64{nil, {math.MinInt64}, {-1, 5}, {0}, {0, 0}, {0, 0, -1}, {0, 1}, {1}, {1, 0}, {2}, {2, -9}, {math.MaxInt64}}))
-	for i, a := range ordered {
-		for k, b := range ordered {
-			want := int64(0)
-			if i < k {
-				want = -1
-			} else if i > k {
-				want = 1
-			}
-			if got := impl.CompareLists(a, b); got != want {
-				t.Errorf("CompareLists(%v, %v): got %d, want %d", a, b, got, want)
-			}
-		}
-	}
+	expectOrder(t, ordered, impl.CompareLists)
 	expect(t, show(impl.CompareLists([]int64{}, nil)), "0")
 }
 

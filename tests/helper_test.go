@@ -1,7 +1,9 @@
 package tests
 
 import (
+	"cmp"
 	"fmt"
+	"slices"
 	"strings"
 	"testing"
 )
@@ -35,4 +37,16 @@ func repeat(n int64, many int) []int64 {
 		list[i] = n
 	}
 	return list
+}
+
+// expectOrder compares each two lists, which stand in ascending order and are all different.
+func expectOrder(t *testing.T, ordered [][]int64, compare func(a, b []int64) int64) {
+	t.Helper()
+	for i, a := range ordered {
+		for k, b := range ordered {
+			if got, want := compare(a, slices.Clone(b)), int64(cmp.Compare(i, k)); got != want {
+				t.Errorf("%v compared with %v: got %d, want %d", a, b, got, want)
+			}
+		}
+	}
 }

@@ -24,53 +24,105 @@ var landed = map[string]any{
 	"SubtractNaturals": impl.SubtractNaturals, "MultiplyNaturals": impl.MultiplyNaturals,
 	"DivideNaturals": impl.DivideNaturals, "PowerNatural": impl.PowerNatural, "GcdNaturals": impl.GcdNaturals,
 	"RootNatural": impl.RootNatural, "ValuationOf": impl.ValuationOf, "DigitsOf": impl.DigitsOf, "FromDigits": impl.FromDigits,
+
+	"IsWord": impl.IsWord, "WordText": impl.WordText, "ReadWord": impl.ReadWord, "ReverseWord": impl.ReverseWord,
+	"OccurrencesOf": impl.OccurrencesOf, "ReplaceAt": impl.ReplaceAt, "ReplaceFirst": impl.ReplaceFirst,
+	"PowerWord": impl.PowerWord, "PeriodOf": impl.PeriodOf, "BordersOf": impl.BordersOf, "RootOf": impl.RootOf,
+	"CompareShortlex": impl.CompareShortlex, "RankWord": impl.RankWord, "WordAt": impl.WordAt,
+	"IsPrefixCode": impl.IsPrefixCode, "EncodeWith": impl.EncodeWith, "DecodeWith": impl.DecodeWith,
+
+	"PairOf": impl.PairOf, "UnpairOf": impl.UnpairOf, "TupleNumber": impl.TupleNumber, "TupleOf": impl.TupleOf,
+	"SequenceNumber": impl.SequenceNumber, "SequenceOf": impl.SequenceOf, "PrimeNumber": impl.PrimeNumber,
+	"PrimeList": impl.PrimeList, "WordNumber": impl.WordNumber, "WordOf": impl.WordOf, "SetNumber": impl.SetNumber,
+	"SetOf": impl.SetOf, "SignedNumber": impl.SignedNumber, "SignedOf": impl.SignedOf,
+	"WeaveNaturals": impl.WeaveNaturals, "UnweaveNatural": impl.UnweaveNatural,
 }
 
 var sampleNumbers = []int64{
-	math.MinInt64, -impl.MaxValue - 1, -impl.MaxValue, -1, 0, 1, 2, 3, 7, 11, 12, 23, 24, 64, 65, 799, 800, 801,
+	math.MinInt64, -impl.MaxValue - 1, -impl.MaxValue, -1, 0, 1, 2, 3, 7, 8, 9, 10, 11, 12, 23, 24, 64, 65, 399, 400, 401, 799, 800, 801,
 	65535, 65536, impl.LimbBase - 1, impl.LimbBase, impl.LimbBase + 1, 999999999989, impl.MaxValue, impl.MaxValue + 1, math.MaxInt64,
 }
 
 var sampleTexts = []string{
 	"", "-", "--", "0", "-0", "00", "7", "-7", "+7", "07", "7 ", " 7", "7,", ",7", "7,,7", "7,-7,0", "a", "a1", "1a", "A", "ab c  d", "   ",
 	"\t", "\x00", "\xff", "\u00e9", "\uff11", "1e3", "0x1", "1_0", "9223372036854775807", "9223372036854775808", "-9223372036854775808",
-	strings.Repeat("9", 18), strings.Repeat("9", 19), strings.Repeat("9", 240), strings.Repeat("9", 241), strings.Repeat("z", 11),
+	strings.Repeat("9", 18), strings.Repeat("9", 19), strings.Repeat("9", 240), strings.Repeat("9", 241), "0190", strings.Repeat("0", 400), strings.Repeat("0", 401), strings.Repeat("z", 11),
 	strings.TrimSuffix(strings.Repeat("7,", 64), ","), strings.TrimSuffix(strings.Repeat("7,", 65), ","),
 }
 
 var sampleLists = [][]int64{
 	nil, {}, {0}, {1}, {2}, {7}, {-1}, {impl.LimbBase - 1}, {impl.LimbBase}, {0, 1}, {1, 0}, {0, 0}, {5, 7}, {7, 5, 7}, {3, 1, 2, 1},
 	{0, 0, 1}, {1, 0, 1}, {0, 0, 0, 1}, {impl.MaxValue}, {impl.MaxValue + 1}, {-impl.MaxValue}, {math.MinInt64, math.MaxInt64},
+	{9}, {10}, {0, 3}, {1, 1, 0, 1, 0}, {12}, {797}, {796, 797}, {798}, {799}, {800},
 	repeat(999999, 20), repeat(999999, 40), repeat(999999, 41), repeat(1, 64), repeat(1, 65), repeat(1, 800), repeat(1, 801), repeat(0, 801),
+	repeat(0, 24), repeat(0, 25), repeat(0, 400), repeat(9, 400), repeat(9, 401), append(repeat(0, 20), 1), append(repeat(0, 39), 500000),
+}
+
+// Where a function has many parameters, these are enough.
+var (
+	fewNumbers = []int64{math.MinInt64, -1, 0, 1, 2, 400, 401, math.MaxInt64}
+	fewLists   = [][]int64{nil, {}, {0}, {1}, {0, 0}, {0, 1, 0}, {10}, {-1}, repeat(0, 399), repeat(0, 400), repeat(0, 401)}
+)
+
+var sampleTables = [][][]int64{
+	nil, {}, {nil}, {{}}, {{0}}, {{1}}, {{10}}, {{-1}}, {{1, 0}}, {{0, 1}}, {nil, nil}, {{1}, {2}, {}}, {{1}, nil, {7, 7}}, {{0}, {1, 0}, {1, 1}}, {{1}, {0}},
+	{{0}, {0}}, {{0}, {0, 1}}, {{0, 1}, {0}}, {{3}, {10}}, {{3}, {1, 0}, {-1}}, {repeat(9, 400), {1}}, {repeat(9, 401)}, {repeat(999999, 40)},
+	{repeat(999999, 40), {1}}, {repeat(999999, 20), repeat(999999, 20)}, {repeat(999999, 41)}, make([][]int64, 8), make([][]int64, 9),
+	slices.Repeat([][]int64{{5}}, 8), slices.Repeat([][]int64{{5}}, 9), manyWords(40), manyWords(41), append(manyWords(41), []int64{10}),
 }
 
 // samplesOf returns values of the type of a parameter; each call makes the lists anew, with unused capacity.
-func samplesOf(p reflect.Type) []reflect.Value {
-	var values []reflect.Value
+func samplesOf(p reflect.Type, few bool) []reflect.Value {
+	numbers, lists := sampleNumbers, sampleLists
+	if few {
+		numbers, lists = fewNumbers, fewLists
+	}
 	switch p {
+	case reflect.TypeFor[bool]():
+		return valuesOf([]bool{false, true})
 	case reflect.TypeFor[int64]():
-		for _, n := range sampleNumbers {
-			values = append(values, reflect.ValueOf(n))
-		}
+		return valuesOf(numbers)
 	case reflect.TypeFor[string]():
-		for _, s := range sampleTexts {
-			values = append(values, reflect.ValueOf(s))
-		}
+		return valuesOf(sampleTexts)
 	case reflect.TypeFor[[]int64]():
-		for _, list := range sampleLists {
-			values = append(values, reflect.ValueOf(withSpare(list)))
+		return valuesOf(withSpares(lists))
+	case reflect.TypeFor[[][]int64]():
+		var tables [][][]int64
+		for _, table := range sampleTables {
+			tables = append(tables, withSpare(withSpares(table), []int64{spare}))
 		}
+		return valuesOf(tables)
+	}
+	return nil
+}
+
+func valuesOf[V any](samples []V) []reflect.Value {
+	var values []reflect.Value
+	for _, v := range samples {
+		values = append(values, reflect.ValueOf(v))
 	}
 	return values
 }
 
 const spare = 77
 
-func withSpare(list []int64) []int64 {
+// withSpare returns a copy of a list with elements in its unused capacity.
+func withSpare[E any](list []E, unused E) []E {
 	if list == nil {
 		return nil
 	}
-	return append(slices.Clone(list), spare, spare, spare)[: len(list) : len(list)+3]
+	return append(slices.Clone(list), unused, unused, unused)[: len(list) : len(list)+3]
+}
+
+func withSpares(lists [][]int64) [][]int64 {
+	if lists == nil {
+		return nil
+	}
+	copies := make([][]int64, len(lists))
+	for i, list := range lists {
+		copies[i] = withSpare(list, spare)
+	}
+	return copies
 }
 
 // argumentsFor returns all combinations of samples for the parameters of a function.
@@ -79,7 +131,7 @@ func argumentsFor(f reflect.Type) [][]reflect.Value {
 	for i := range f.NumIn() {
 		var longer [][]reflect.Value
 		for _, before := range all {
-			for _, v := range samplesOf(f.In(i)) {
+			for _, v := range samplesOf(f.In(i), f.NumIn() > 2) {
 				longer = append(longer, append(slices.Clone(before), v))
 			}
 		}
@@ -88,17 +140,35 @@ func argumentsFor(f reflect.Type) [][]reflect.Value {
 	return all
 }
 
+// hasLists reports whether the elements of a slice are slices.
+func hasLists(v reflect.Value) bool {
+	return v.Kind() == reflect.Slice && v.Type().Elem().Kind() == reflect.Slice
+}
+
 // wholeText writes values with the unused capacity of lists.
 func wholeText(values []reflect.Value) string {
 	var text strings.Builder
 	for _, v := range values {
-		if v.Kind() == reflect.Slice {
-			fmt.Fprintf(&text, "%d of %v; ", v.Len(), v.Slice(0, v.Cap()))
-		} else {
+		if v.Kind() != reflect.Slice {
 			fmt.Fprintf(&text, "%v; ", v)
+			continue
+		}
+		whole := v.Slice(0, v.Cap())
+		if hasLists(v) {
+			fmt.Fprintf(&text, "%d of [%s]; ", v.Len(), wholeText(elementsOf(whole)))
+		} else {
+			fmt.Fprintf(&text, "%d of %v; ", v.Len(), whole)
 		}
 	}
 	return text.String()
+}
+
+func elementsOf(v reflect.Value) []reflect.Value {
+	var elements []reflect.Value
+	for i := range v.Len() {
+		elements = append(elements, v.Index(i))
+	}
+	return elements
 }
 
 func resultText(values []reflect.Value) string {
@@ -109,13 +179,38 @@ func resultText(values []reflect.Value) string {
 	return text.String()
 }
 
-// shareMemory reports whether two lists of numbers have an element in common, also in their unused capacity.
-func shareMemory(a, b reflect.Value) bool {
-	if a.Type() != reflect.TypeFor[[]int64]() || a.Type() != b.Type() || a.Cap() == 0 || b.Cap() == 0 {
-		return false
+// memory is a part of the memory, from the first address to that before the last one.
+type memory struct{ from, to uintptr }
+
+// memoryOf returns what a value occupies with its slices, also in their unused capacity.
+func memoryOf(v reflect.Value) []memory {
+	if v.Kind() != reflect.Slice || v.Cap() == 0 {
+		return nil
 	}
-	const size = 8
-	return a.Pointer() < b.Pointer()+uintptr(b.Cap())*size && b.Pointer() < a.Pointer()+uintptr(a.Cap())*size
+	parts := []memory{{v.Pointer(), v.Pointer() + uintptr(v.Cap())*v.Type().Elem().Size()}}
+	if hasLists(v) {
+		for _, element := range elementsOf(v.Slice(0, v.Cap())) {
+			parts = append(parts, memoryOf(element)...)
+		}
+	}
+	return parts
+}
+
+// shareMemory reports whether a part of the results is also one of the arguments or another one of the results.
+func shareMemory(results, args []reflect.Value) bool {
+	var taken []memory
+	for _, v := range args {
+		taken = append(taken, memoryOf(v)...)
+	}
+	for _, v := range results {
+		for _, part := range memoryOf(v) {
+			if slices.ContainsFunc(taken, func(other memory) bool { return part.from < other.to && other.from < part.to }) {
+				return true
+			}
+			taken = append(taken, part)
+		}
+	}
+	return false
 }
 
 // failed reports whether the last one of several results is a code other than OK, or false.
@@ -145,12 +240,10 @@ func checkCall(t *testing.T, name string, f reflect.Value, args []reflect.Value)
 	if again := f.Call(args); resultText(again) != resultText(results) {
 		t.Errorf("%s for %s: first %s, then %s", name, before, resultText(results), resultText(again))
 	}
+	if shareMemory(results, args) {
+		t.Errorf("%s for %s: a result shares memory", name, before)
+	}
 	for i, r := range results {
-		for _, other := range slices.Concat(args, results[:i]) {
-			if shareMemory(r, other) {
-				t.Errorf("%s for %s: the result %d shares memory", name, before, i)
-			}
-		}
 		if failed(results) && i < len(results)-1 && !(r.IsZero() || r.Kind() == reflect.Slice && r.Len() == 0) {
 			t.Errorf("%s for %s: the result %d is %v beside an error", name, before, i, r)
 		}
@@ -169,35 +262,90 @@ func TestPromise1EveryCall(t *testing.T) {
 func TestPromise1OneListTwice(t *testing.T) {
 	for name, call := range landed {
 		f := reflect.ValueOf(call)
-		if f.Type().NumIn() != 2 || f.Type().In(0) != f.Type().In(1) || f.Type().In(0).Kind() != reflect.Slice {
+		many := f.Type().NumIn()
+		if many < 2 || !onlyLists(f.Type()) {
 			continue
 		}
-		for _, list := range samplesOf(f.Type().In(0)) {
-			checkCall(t, name, f, []reflect.Value{list, list})
-			separate := f.Call([]reflect.Value{list, reflect.ValueOf(slices.Clone(list.Interface().([]int64)))})
-			if together := f.Call([]reflect.Value{list, list}); resultText(together) != resultText(separate) {
-				t.Errorf("%s for one list twice: %s, for two equal lists: %s", name, resultText(together), resultText(separate))
+		for _, list := range samplesOf(reflect.TypeFor[[]int64](), false) {
+			same := slices.Repeat([]reflect.Value{list}, many)
+			checkCall(t, name, f, same)
+			var equal []reflect.Value
+			for range many {
+				equal = append(equal, reflect.ValueOf(slices.Clone(list.Interface().([]int64))))
+			}
+			if together, separate := f.Call(same), f.Call(equal); resultText(together) != resultText(separate) {
+				t.Errorf("%s for one list twice: %s, for equal lists: %s", name, resultText(together), resultText(separate))
 			}
 		}
 	}
+}
+
+func onlyLists(f reflect.Type) bool {
+	for i := range f.NumIn() {
+		if f.In(i) != reflect.TypeFor[[]int64]() {
+			return false
+		}
+	}
+	return true
+}
+
+func TestPromise1OneListInATable(t *testing.T) {
+	for name, call := range landed {
+		f := reflect.ValueOf(call)
+		if f.Type().NumIn() != 1 || f.Type().In(0) != reflect.TypeFor[[][]int64]() {
+			continue
+		}
+		for _, list := range sampleLists {
+			same := withSpare(list, spare)
+			checkCall(t, name, f, []reflect.Value{reflect.ValueOf([][]int64{same, same})})
+		}
+	}
+}
+
+// swapEmpty returns a value in which nil and empty slices are exchanged.
+func swapEmpty(v reflect.Value) reflect.Value {
+	if v.Kind() != reflect.Slice {
+		return v
+	}
+	if v.IsNil() {
+		return reflect.MakeSlice(v.Type(), 0, 0)
+	}
+	if v.Len() == 0 {
+		return reflect.Zero(v.Type())
+	}
+	if !hasLists(v) {
+		return v
+	}
+	swapped := reflect.MakeSlice(v.Type(), 0, v.Len())
+	for _, element := range elementsOf(v) {
+		swapped = reflect.Append(swapped, swapEmpty(element))
+	}
+	return swapped
 }
 
 func TestPromise1NilIsEmpty(t *testing.T) {
 	for name, call := range landed {
 		f := reflect.ValueOf(call)
 		for _, args := range argumentsFor(f.Type()) {
-			swapped := slices.Clone(args)
-			for i, v := range args {
-				if v.Kind() == reflect.Slice && v.Len() == 0 && v.IsNil() {
-					swapped[i] = reflect.ValueOf([]int64{})
-				} else if v.Kind() == reflect.Slice && v.Len() == 0 {
-					swapped[i] = reflect.Zero(v.Type())
-				}
+			var swapped []reflect.Value
+			for _, v := range args {
+				swapped = append(swapped, swapEmpty(v))
 			}
 			if a, b := resultText(f.Call(args)), resultText(f.Call(swapped)); a != b {
 				t.Errorf("%s for %s: %s, but %s with nil and empty lists exchanged", name, wholeText(args), a, b)
 			}
 		}
+	}
+}
+
+// wipe sets all elements of slices to zero, also in their unused capacity.
+func wipe(v reflect.Value) {
+	if v.Kind() != reflect.Slice {
+		return
+	}
+	for _, element := range elementsOf(v.Slice(0, v.Cap())) {
+		wipe(element)
+		element.SetZero()
 	}
 }
 
@@ -209,13 +357,7 @@ func TestPromise1ResultsAreNotKept(t *testing.T) {
 			results := f.Call(args)
 			before := resultText(results)
 			for _, r := range results {
-				if r.Kind() != reflect.Slice {
-					continue
-				}
-				whole := r.Slice(0, r.Cap())
-				for i := range whole.Len() {
-					whole.Index(i).SetZero()
-				}
+				wipe(r)
 			}
 			if after := resultText(f.Call(args)); after != before {
 				t.Errorf("%s for %s: %s, and %s after its results have been changed", name, wholeText(args), before, after)
