@@ -42,8 +42,11 @@ func eachIs(valid func([]int64) bool, lists [][]int64) bool {
 
 // areBelow reports whether all numbers of a list are from 0 to limit - 1.
 func areBelow(list []int64, limit int64) bool {
-	return !slices.ContainsFunc(list, func(n int64) bool { return n < 0 || n >= limit })
+	return !slices.ContainsFunc(list, func(n int64) bool { return !isBelow(n, limit) })
 }
+
+// isBelow reports whether a number is from 0 to limit - 1.
+func isBelow(n, limit int64) bool { return n >= 0 && n < limit }
 
 // NaturalOf returns the natural with a value.
 func NaturalOf(n int64) ([]int64, int64) {
@@ -252,7 +255,8 @@ func withinLimbs(n []int64) ([]int64, int64) {
 	return n, OK
 }
 
-func trimLimbs(n []int64) []int64 {
+// trimZeros returns a list without the zeros at its end.
+func trimZeros(n []int64) []int64 {
 	for len(n) > 0 && n[len(n)-1] == 0 {
 		n = n[:len(n)-1]
 	}
@@ -306,14 +310,14 @@ func addLimbs(a, b []int64) []int64 {
 	sum := make([]int64, max(len(a), len(b))+1)
 	copy(sum, a)
 	addTimes(sum, b, 1)
-	return trimLimbs(sum)
+	return trimZeros(sum)
 }
 
 // subtractLimbs subtracts a number that is at most a.
 func subtractLimbs(a, b []int64) []int64 {
 	difference := slices.Clone(a)
 	addTimes(difference, b, -1)
-	return trimLimbs(difference)
+	return trimZeros(difference)
 }
 
 func oneMore(n []int64) []int64 { return addLimbs(n, limbsOf(1)) }
@@ -326,7 +330,7 @@ func multiplyLimbs(a, b []int64) []int64 {
 	for i, limb := range a {
 		addTimes(product[i:], b, limb)
 	}
-	return trimLimbs(product)
+	return trimZeros(product)
 }
 
 // multiplyBySmall returns n times by plus carry, for numbers up to LimbBase.
@@ -352,7 +356,7 @@ func divideBySmall(n []int64, by int64) ([]int64, int64) {
 		quotient[i] = rest / by
 		rest %= by
 	}
-	return trimLimbs(quotient), rest
+	return trimZeros(quotient), rest
 }
 
 // divideLimbs divides by a number that is not 0.
@@ -369,7 +373,7 @@ func divideLimbs(a, b []int64) ([]int64, []int64) {
 	for at := range slices.Backward(quotient) {
 		quotient[at] = takeMultiple(rest[at:at+len(b)+1], b)
 	}
-	return trimLimbs(quotient), trimLimbs(rest)
+	return trimZeros(quotient), trimZeros(rest)
 }
 
 // takeMultiple reduces part, which has one limb more than b and is less than b times LimbBase, to its remainder by b,

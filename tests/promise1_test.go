@@ -36,6 +36,13 @@ var landed = map[string]any{
 	"PrimeList": impl.PrimeList, "WordNumber": impl.WordNumber, "WordOf": impl.WordOf, "SetNumber": impl.SetNumber,
 	"SetOf": impl.SetOf, "SignedNumber": impl.SignedNumber, "SignedOf": impl.SignedOf,
 	"WeaveNaturals": impl.WeaveNaturals, "UnweaveNatural": impl.UnweaveNatural,
+
+	"ValidMachine": impl.ValidMachine, "SameMachine": impl.SameMachine, "MachineText": impl.MachineText,
+	"ReadMachine": impl.ReadMachine, "FreeRules": impl.FreeRules, "SetRule": impl.SetRule, "ValidConfig": impl.ValidConfig,
+	"StartConfig": impl.StartConfig, "ConfigText": impl.ConfigText, "ReadConfig": impl.ReadConfig, "CellsOf": impl.CellsOf,
+	"StepMachine": impl.StepMachine, "RunMachine": impl.RunMachine, "TraceMachine": impl.TraceMachine,
+	"UsedRules": impl.UsedRules, "RenameStates": impl.RenameStates, "SwapSymbols": impl.SwapSymbols,
+	"MirrorMachine": impl.MirrorMachine, "MirrorConfig": impl.MirrorConfig, "PruneMachine": impl.PruneMachine,
 }
 
 var sampleNumbers = []int64{
@@ -48,6 +55,7 @@ var sampleTexts = []string{
 	"\t", "\x00", "\xff", "\u00e9", "\uff11", "1e3", "0x1", "1_0", "9223372036854775807", "9223372036854775808", "-9223372036854775808",
 	strings.Repeat("9", 18), strings.Repeat("9", 19), strings.Repeat("9", 240), strings.Repeat("9", 241), "0190", strings.Repeat("0", 400), strings.Repeat("0", 401), strings.Repeat("z", 11),
 	strings.TrimSuffix(strings.Repeat("7,", 64), ","), strings.TrimSuffix(strings.Repeat("7,", 65), ","),
+	";", "---", "---,---", "---,---;", "0R0,0L0", "0R1,0L0", "1R1,1L1;1L0,---", "1R1,1L1;1L0", "(0)", "(1)", "(-1)", "1(1)111", "01(1)0", "()", ")(",
 }
 
 var sampleLists = [][]int64{
@@ -71,29 +79,35 @@ var sampleTables = [][][]int64{
 	slices.Repeat([][]int64{{5}}, 8), slices.Repeat([][]int64{{5}}, 9), manyWords(40), manyWords(41), append(manyWords(41), []int64{10}),
 }
 
-// samplesOf returns values of the type of a parameter; each call makes the lists anew, with unused capacity.
+// samplesOf returns values of the type of a parameter; each call makes the slices anew, with unused capacity.
 func samplesOf(p reflect.Type, few bool) []reflect.Value {
 	numbers, lists := sampleNumbers, sampleLists
 	if few {
 		numbers, lists = fewNumbers, fewLists
 	}
+	var values []reflect.Value
 	switch p {
 	case reflect.TypeFor[bool]():
-		return valuesOf([]bool{false, true})
+		values = valuesOf([]bool{false, true})
 	case reflect.TypeFor[int64]():
-		return valuesOf(numbers)
+		values = valuesOf(numbers)
 	case reflect.TypeFor[string]():
-		return valuesOf(sampleTexts)
+		values = valuesOf(sampleTexts)
 	case reflect.TypeFor[[]int64]():
-		return valuesOf(withSpares(lists))
+		values = valuesOf(lists)
 	case reflect.TypeFor[[][]int64]():
-		var tables [][][]int64
-		for _, table := range sampleTables {
-			tables = append(tables, withSpare(withSpares(table), []int64{spare}))
-		}
-		return valuesOf(tables)
+		values = valuesOf(sampleTables)
+	case reflect.TypeFor[impl.Rule]():
+		values = valuesOf(sampleRules)
+	case reflect.TypeFor[impl.Machine]():
+		values = valuesOf(sampleMachines())
+	case reflect.TypeFor[impl.Config]():
+		values = valuesOf(sampleConfigs)
 	}
-	return nil
+	for i, v := range values {
+		values[i] = withSpare(v)
+	}
+	return values
 }
 
 func valuesOf[V any](samples []V) []reflect.Value {
@@ -104,25 +118,41 @@ func valuesOf[V any](samples []V) []reflect.Value {
 	return values
 }
 
-const spare = 77
-
-// withSpare returns a copy of a list with elements in its unused capacity.
-func withSpare[E any](list []E, unused E) []E {
-	if list == nil {
-		return nil
+// withSpare returns a copy of a value in new memory, in which slices have elements in their unused capacity.
+func withSpare(v reflect.Value) reflect.Value {
+	copied := reflect.New(v.Type()).Elem()
+	copied.Set(v)
+	switch {
+	case v.Kind() == reflect.Struct:
+		for i := range v.NumField() {
+			copied.Field(i).Set(withSpare(v.Field(i)))
+		}
+	case v.Kind() == reflect.Slice && !v.IsNil():
+		whole := reflect.MakeSlice(v.Type(), v.Len()+3, v.Len()+3)
+		for i, element := range elementsOf(v) {
+			whole.Index(i).Set(withSpare(element))
+		}
+		for i := v.Len(); i < whole.Len(); i++ {
+			fill(whole.Index(i))
+		}
+		copied.Set(whole.Slice(0, v.Len()))
 	}
-	return append(slices.Clone(list), unused, unused, unused)[: len(list) : len(list)+3]
+	return copied
 }
 
-func withSpares(lists [][]int64) [][]int64 {
-	if lists == nil {
-		return nil
+// fill makes a value one that should not be seen.
+func fill(v reflect.Value) {
+	switch v.Kind() {
+	case reflect.Int64:
+		v.SetInt(77)
+	case reflect.Struct:
+		for i := range v.NumField() {
+			fill(v.Field(i))
+		}
+	case reflect.Slice:
+		v.Set(reflect.MakeSlice(v.Type(), 1, 1))
+		fill(v.Index(0))
 	}
-	copies := make([][]int64, len(lists))
-	for i, list := range lists {
-		copies[i] = withSpare(list, spare)
-	}
-	return copies
 }
 
 // argumentsFor returns all combinations of samples for the parameters of a function.
@@ -140,27 +170,42 @@ func argumentsFor(f reflect.Type) [][]reflect.Value {
 	return all
 }
 
-// hasLists reports whether the elements of a slice are slices.
-func hasLists(v reflect.Value) bool {
-	return v.Kind() == reflect.Slice && v.Type().Elem().Kind() == reflect.Slice
+// hasSlices reports whether values of a type contain slices.
+func hasSlices(p reflect.Type) bool {
+	if p.Kind() == reflect.Struct {
+		for i := range p.NumField() {
+			if hasSlices(p.Field(i).Type) {
+				return true
+			}
+		}
+	}
+	return p.Kind() == reflect.Slice
 }
 
-// wholeText writes values with the unused capacity of lists.
+// wholeText writes values with the unused capacity of slices.
 func wholeText(values []reflect.Value) string {
 	var text strings.Builder
 	for _, v := range values {
-		if v.Kind() != reflect.Slice {
+		switch {
+		case !hasSlices(v.Type()):
 			fmt.Fprintf(&text, "%v; ", v)
-			continue
-		}
-		whole := v.Slice(0, v.Cap())
-		if hasLists(v) {
-			fmt.Fprintf(&text, "%d of [%s]; ", v.Len(), wholeText(elementsOf(whole)))
-		} else {
-			fmt.Fprintf(&text, "%d of %v; ", v.Len(), whole)
+		case v.Kind() == reflect.Struct:
+			fmt.Fprintf(&text, "{%s}; ", wholeText(fieldsOf(v)))
+		case hasSlices(v.Type().Elem()):
+			fmt.Fprintf(&text, "%d of [%s]; ", v.Len(), wholeText(elementsOf(v.Slice(0, v.Cap()))))
+		default:
+			fmt.Fprintf(&text, "%d of %v; ", v.Len(), v.Slice(0, v.Cap()))
 		}
 	}
 	return text.String()
+}
+
+func fieldsOf(v reflect.Value) []reflect.Value {
+	var fields []reflect.Value
+	for i := range v.NumField() {
+		fields = append(fields, v.Field(i))
+	}
+	return fields
 }
 
 func elementsOf(v reflect.Value) []reflect.Value {
@@ -184,13 +229,18 @@ type memory struct{ from, to uintptr }
 
 // memoryOf returns what a value occupies with its slices, also in their unused capacity.
 func memoryOf(v reflect.Value) []memory {
-	if v.Kind() != reflect.Slice || v.Cap() == 0 {
-		return nil
-	}
-	parts := []memory{{v.Pointer(), v.Pointer() + uintptr(v.Cap())*v.Type().Elem().Size()}}
-	if hasLists(v) {
-		for _, element := range elementsOf(v.Slice(0, v.Cap())) {
-			parts = append(parts, memoryOf(element)...)
+	var parts []memory
+	switch {
+	case v.Kind() == reflect.Struct:
+		for _, field := range fieldsOf(v) {
+			parts = append(parts, memoryOf(field)...)
+		}
+	case v.Kind() == reflect.Slice && v.Cap() > 0:
+		parts = append(parts, memory{v.Pointer(), v.Pointer() + uintptr(v.Cap())*v.Type().Elem().Size()})
+		if hasSlices(v.Type().Elem()) {
+			for _, element := range elementsOf(v.Slice(0, v.Cap())) {
+				parts = append(parts, memoryOf(element)...)
+			}
 		}
 	}
 	return parts
@@ -225,6 +275,14 @@ func failed(results []reflect.Value) bool {
 	return false
 }
 
+// isNothing reports whether a value is zero, but for slices that are empty and not nil.
+func isNothing(v reflect.Value) bool {
+	if v.Kind() == reflect.Struct {
+		return !slices.ContainsFunc(fieldsOf(v), func(field reflect.Value) bool { return !isNothing(field) })
+	}
+	return v.IsZero() || v.Kind() == reflect.Slice && v.Len() == 0
+}
+
 func checkCall(t *testing.T, name string, f reflect.Value, args []reflect.Value) {
 	t.Helper()
 	defer func() {
@@ -244,7 +302,7 @@ func checkCall(t *testing.T, name string, f reflect.Value, args []reflect.Value)
 		t.Errorf("%s for %s: a result shares memory", name, before)
 	}
 	for i, r := range results {
-		if failed(results) && i < len(results)-1 && !(r.IsZero() || r.Kind() == reflect.Slice && r.Len() == 0) {
+		if failed(results) && i < len(results)-1 && !isNothing(r) {
 			t.Errorf("%s for %s: the result %d is %v beside an error", name, before, i, r)
 		}
 	}
@@ -295,30 +353,46 @@ func TestPromise1OneListInATable(t *testing.T) {
 		if f.Type().NumIn() != 1 || f.Type().In(0) != reflect.TypeFor[[][]int64]() {
 			continue
 		}
-		for _, list := range sampleLists {
-			same := withSpare(list, spare)
+		for _, v := range samplesOf(reflect.TypeFor[[]int64](), false) {
+			same := v.Interface().([]int64)
 			checkCall(t, name, f, []reflect.Value{reflect.ValueOf([][]int64{same, same})})
+		}
+	}
+}
+
+func TestPromise1OneListOnBothSides(t *testing.T) {
+	for name, call := range landed {
+		f := reflect.ValueOf(call)
+		for _, args := range argumentsFor(f.Type()) {
+			for _, v := range args {
+				if c, is := v.Interface().(impl.Config); is {
+					v.Field(2).Set(reflect.ValueOf(c.Left))
+					checkCall(t, name, f, args)
+				}
+			}
 		}
 	}
 }
 
 // swapEmpty returns a value in which nil and empty slices are exchanged.
 func swapEmpty(v reflect.Value) reflect.Value {
-	if v.Kind() != reflect.Slice {
-		return v
-	}
-	if v.IsNil() {
-		return reflect.MakeSlice(v.Type(), 0, 0)
-	}
-	if v.Len() == 0 {
-		return reflect.Zero(v.Type())
-	}
-	if !hasLists(v) {
-		return v
-	}
-	swapped := reflect.MakeSlice(v.Type(), 0, v.Len())
-	for _, element := range elementsOf(v) {
-		swapped = reflect.Append(swapped, swapEmpty(element))
+	swapped := reflect.New(v.Type()).Elem()
+	swapped.Set(v)
+	switch {
+	case v.Kind() == reflect.Struct:
+		for i, field := range fieldsOf(v) {
+			swapped.Field(i).Set(swapEmpty(field))
+		}
+	case v.Kind() != reflect.Slice:
+	case v.IsNil():
+		swapped.Set(reflect.MakeSlice(v.Type(), 0, 0))
+	case v.Len() == 0:
+		swapped.SetZero()
+	case hasSlices(v.Type().Elem()):
+		swapped.Set(reflect.MakeSlice(v.Type(), v.Len(), v.Len()))
+		for i, element := range elementsOf(v) {
+			swapped.Index(i).Set(swapEmpty(element))
+		}
 	}
 	return swapped
 }
@@ -340,12 +414,16 @@ func TestPromise1NilIsEmpty(t *testing.T) {
 
 // wipe sets all elements of slices to zero, also in their unused capacity.
 func wipe(v reflect.Value) {
-	if v.Kind() != reflect.Slice {
-		return
-	}
-	for _, element := range elementsOf(v.Slice(0, v.Cap())) {
-		wipe(element)
-		element.SetZero()
+	switch v.Kind() {
+	case reflect.Struct:
+		for _, field := range fieldsOf(v) {
+			wipe(field)
+		}
+	case reflect.Slice:
+		for _, element := range elementsOf(v.Slice(0, v.Cap())) {
+			wipe(element)
+			element.SetZero()
+		}
 	}
 }
 
