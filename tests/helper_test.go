@@ -50,3 +50,27 @@ func expectOrder(t *testing.T, ordered [][]int64, compare func(a, b []int64) int
 		}
 	}
 }
+
+// mustRead returns what is read from a text, which must be one.
+func mustRead[V any](t *testing.T, read func(string) (V, bool), s string) V {
+	t.Helper()
+	v, ok := read(s)
+	if !ok {
+		t.Fatalf("%.80q is not read", s)
+	}
+	return v
+}
+
+// beforeTrouble makes at most so many steps of a model, until one of them fails. It returns what was there before the last
+// step, the number of steps, that one too, and its code.
+func beforeTrouble[C any](x interface {
+	config() C
+	step() int64
+}, most int64) (before C, made, code int64) {
+	for made < most && code == 0 {
+		before = x.config()
+		code = x.step()
+		made++
+	}
+	return before, made, code
+}

@@ -43,6 +43,12 @@ var landed = map[string]any{
 	"StepMachine": impl.StepMachine, "RunMachine": impl.RunMachine, "TraceMachine": impl.TraceMachine,
 	"UsedRules": impl.UsedRules, "RenameStates": impl.RenameStates, "SwapSymbols": impl.SwapSymbols,
 	"MirrorMachine": impl.MirrorMachine, "MirrorConfig": impl.MirrorConfig, "PruneMachine": impl.PruneMachine,
+
+	"ValidMulti": impl.ValidMulti, "ValidMultiConfig": impl.ValidMultiConfig, "SameMultiConfig": impl.SameMultiConfig,
+	"MultiText": impl.MultiText, "ReadMulti": impl.ReadMulti, "StartMulti": impl.StartMulti, "MultiRuleAt": impl.MultiRuleAt,
+	"StepMulti": impl.StepMulti, "RunMulti": impl.RunMulti, "TraceMulti": impl.TraceMulti, "TapeWord": impl.TapeWord,
+	"MultiSpace": impl.MultiSpace, "HaltingReads": impl.HaltingReads, "SequenceMulti": impl.SequenceMulti,
+	"PermuteTapes": impl.PermuteTapes, "CopyMulti": impl.CopyMulti, "PalindromeMulti": impl.PalindromeMulti,
 }
 
 var sampleNumbers = []int64{
@@ -56,6 +62,7 @@ var sampleTexts = []string{
 	strings.Repeat("9", 18), strings.Repeat("9", 19), strings.Repeat("9", 240), strings.Repeat("9", 241), "0190", strings.Repeat("0", 400), strings.Repeat("0", 401), strings.Repeat("z", 11),
 	strings.TrimSuffix(strings.Repeat("7,", 64), ","), strings.TrimSuffix(strings.Repeat("7,", 65), ","),
 	";", "---", "---,---", "---,---;", "0R0,0L0", "0R1,0L0", "1R1,1L1;1L0,---", "1R1,1L1;1L0", "(0)", "(1)", "(-1)", "1(1)111", "01(1)0", "()", ")(",
+	"2 2 1", "2 2 1\n", "3 3 16", "2 2 1\n0 10 11 RR 0", "2 2 1\n0 10 11 RR 0\n0 11 11 SS 0", "2 2 1\n0 10 11 RR", "2 2 1\n0 10 11 RX 0", "2 2 1\n0 1x 11 RR 0", "\n",
 }
 
 var sampleLists = [][]int64{
@@ -76,7 +83,7 @@ var sampleTables = [][][]int64{
 	nil, {}, {nil}, {{}}, {{0}}, {{1}}, {{10}}, {{-1}}, {{1, 0}}, {{0, 1}}, {nil, nil}, {{1}, {2}, {}}, {{1}, nil, {7, 7}}, {{0}, {1, 0}, {1, 1}}, {{1}, {0}},
 	{{0}, {0}}, {{0}, {0, 1}}, {{0, 1}, {0}}, {{3}, {10}}, {{3}, {1, 0}, {-1}}, {repeat(9, 400), {1}}, {repeat(9, 401)}, {repeat(999999, 40)},
 	{repeat(999999, 40), {1}}, {repeat(999999, 20), repeat(999999, 20)}, {repeat(999999, 41)}, make([][]int64, 8), make([][]int64, 9),
-	slices.Repeat([][]int64{{5}}, 8), slices.Repeat([][]int64{{5}}, 9), manyWords(40), manyWords(41), append(manyWords(41), []int64{10}),
+	slices.Repeat([][]int64{{5}}, 8), slices.Repeat([][]int64{{5}}, 9), {nil, {1}, {0, 1, 0}}, {repeat(1, 200), repeat(0, 200)}, {repeat(1, 201), nil}, manyWords(40), manyWords(41), append(manyWords(41), []int64{10}),
 }
 
 // samplesOf returns values of the type of a parameter; each call makes the slices anew, with unused capacity.
@@ -103,6 +110,12 @@ func samplesOf(p reflect.Type, few bool) []reflect.Value {
 		values = valuesOf(sampleMachines())
 	case reflect.TypeFor[impl.Config]():
 		values = valuesOf(sampleConfigs)
+	case reflect.TypeFor[impl.Multi]():
+		values = valuesOf(sampleMultis())
+	case reflect.TypeFor[impl.MultiConfig]():
+		values = valuesOf(sampleMultiConfigs())
+	case reflect.TypeFor[impl.Tape]():
+		values = valuesOf(sampleTapes())
 	}
 	for i, v := range values {
 		values[i] = withSpare(v)
@@ -317,34 +330,35 @@ func TestPromise1EveryCall(t *testing.T) {
 	}
 }
 
-func TestPromise1OneListTwice(t *testing.T) {
+func TestPromise1OneArgumentTwice(t *testing.T) {
 	for name, call := range landed {
 		f := reflect.ValueOf(call)
 		many := f.Type().NumIn()
-		if many < 2 || !onlyLists(f.Type()) {
+		if many < 2 || !areAlike(f.Type()) {
 			continue
 		}
-		for _, list := range samplesOf(reflect.TypeFor[[]int64](), false) {
-			same := slices.Repeat([]reflect.Value{list}, many)
+		for _, v := range samplesOf(f.Type().In(0), false) {
+			same := slices.Repeat([]reflect.Value{v}, many)
 			checkCall(t, name, f, same)
 			var equal []reflect.Value
 			for range many {
-				equal = append(equal, reflect.ValueOf(slices.Clone(list.Interface().([]int64))))
+				equal = append(equal, withSpare(v))
 			}
 			if together, separate := f.Call(same), f.Call(equal); resultText(together) != resultText(separate) {
-				t.Errorf("%s for one list twice: %s, for equal lists: %s", name, resultText(together), resultText(separate))
+				t.Errorf("%s for one argument twice: %s, for equal ones: %s", name, resultText(together), resultText(separate))
 			}
 		}
 	}
 }
 
-func onlyLists(f reflect.Type) bool {
+// areAlike reports whether all parameters have the type of the first one, with slices in it.
+func areAlike(f reflect.Type) bool {
 	for i := range f.NumIn() {
-		if f.In(i) != reflect.TypeFor[[]int64]() {
+		if f.In(i) != f.In(0) {
 			return false
 		}
 	}
-	return true
+	return hasSlices(f.In(0))
 }
 
 func TestPromise1OneListInATable(t *testing.T) {
@@ -360,18 +374,45 @@ func TestPromise1OneListInATable(t *testing.T) {
 	}
 }
 
-func TestPromise1OneListOnBothSides(t *testing.T) {
+// Lists of one argument may be the same one: both sides of a tape, what a rule reads and writes, all tapes.
+func TestPromise1OneListInAnArgument(t *testing.T) {
 	for name, call := range landed {
 		f := reflect.ValueOf(call)
 		for _, args := range argumentsFor(f.Type()) {
+			changed := false
 			for _, v := range args {
-				if c, is := v.Interface().(impl.Config); is {
-					v.Field(2).Set(reflect.ValueOf(c.Left))
-					checkCall(t, name, f, args)
-				}
+				changed = shareLists(v) || changed
+			}
+			if changed {
+				checkCall(t, name, f, args)
 			}
 		}
 	}
+}
+
+// shareLists makes all lists in a struct the first one of them, and all tapes the first one, and reports whether there are any.
+func shareLists(v reflect.Value) bool {
+	shared := false
+	switch {
+	case v.Kind() == reflect.Struct:
+		var lists []reflect.Value
+		for _, field := range fieldsOf(v) {
+			if field.Type() == reflect.TypeFor[[]int64]() {
+				lists = append(lists, field)
+				field.Set(lists[0])
+			}
+			shared = shareLists(field) || shared
+		}
+		return shared || len(lists) > 1
+	case v.Kind() == reflect.Slice && v.Type().Elem().Kind() == reflect.Struct:
+		for i, element := range elementsOf(v) {
+			shared = shareLists(element) || shared
+			if i > 0 && element.Type() == reflect.TypeFor[impl.Tape]() {
+				element.Set(v.Index(0))
+			}
+		}
+	}
+	return shared
 }
 
 // swapEmpty returns a value in which nil and empty slices are exchanged.

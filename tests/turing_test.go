@@ -11,14 +11,9 @@ import (
 	"loop.example/g01079/impl"
 )
 
-// machineOf returns the machine with a text, which must have one.
 func machineOf(t *testing.T, s string) impl.Machine {
 	t.Helper()
-	m, ok := impl.ReadMachine(s)
-	if !ok {
-		t.Fatalf("%.80s is not read", s)
-	}
-	return m
+	return mustRead(t, impl.ReadMachine, s)
 }
 
 func rule(write, move, next int64) impl.Rule {
@@ -541,13 +536,7 @@ func TestPromise6NearlyFullTapes(t *testing.T) {
 		m := randomMachine(random, 2+random.Int63n(2), 2+random.Int63n(3), 40)
 		x := newModel(m, impl.Config{Left: nearlyFull(random, m), Right: nearlyFull(random, m)})
 		c := x.config()
-		made, code := int64(0), int64(impl.OK)
-		before := c
-		for made < 300 && code == impl.OK {
-			before = x.config()
-			code = x.step()
-			made++
-		}
+		before, made, code := beforeTrouble(x, 300)
 		if made > 1 {
 			end, steps, halts, ok := impl.RunMachine(m, c, made-1)
 			expect(t, show(end, steps, halts, ok), show(before, made-1, code == impl.ErrState, impl.OK))
