@@ -6,6 +6,8 @@ import (
 	"slices"
 	"strings"
 	"testing"
+
+	"loop.example/g01079/impl"
 )
 
 // show writes the results of a call in one line; texts are quoted, so that empty ones and blanks are seen.
@@ -61,16 +63,56 @@ func mustRead[V any](t *testing.T, read func(string) (V, bool), s string) V {
 	return v
 }
 
-// beforeTrouble makes at most so many steps of a model, until one of them fails. It returns what was there before the last
-// step, the number of steps, that one too, and its code.
-func beforeTrouble[C any](x interface {
+// plainModel is a model at work in the plainest way. The code of a step tells what is wrong with it.
+type plainModel[C any] interface {
 	config() C
 	step() int64
-}, most int64) (before C, made, code int64) {
-	for made < most && code == 0 {
+}
+
+// beforeTrouble makes at most so many steps of a model, until one of them fails. It returns what was there before the last
+// step, the number of steps, that one too, and its code.
+func beforeTrouble[C any](x plainModel[C], most int64) (before C, made, code int64) {
+	for made < most && code == impl.OK {
 		before = x.config()
 		code = x.step()
 		made++
 	}
 	return before, made, code
+}
+
+// expectUntilTrouble compares a run with at most so many steps of a model, until one of them fails. It reports whether that
+// is for lack of space.
+func expectUntilTrouble[M, C any](t *testing.T, step func(M, C) (C, int64), run func(M, C, int64) (C, int64, bool, int64), m M, x plainModel[C], most int64) bool {
+	t.Helper()
+	c := x.config()
+	before, made, code := beforeTrouble(x, most)
+	if made > 1 {
+		end, steps, halts, ok := run(m, c, made-1)
+		expect(t, show(end, steps, halts, ok), show(before, made-1, code == impl.ErrState, impl.OK))
+	}
+	if code != impl.ErrFull {
+		return false
+	}
+	var none C
+	next, ok := step(m, before)
+	expect(t, show(next, ok), show(none, impl.ErrFull))
+	end, steps, halts, ok := run(m, c, made)
+	expect(t, show(end, steps, halts, ok), show(none, 0, false, impl.ErrFull))
+	return true
+}
+
+// expectSame compares the run of a machine of some model from c with that of a changed one, for which the configurations have
+// another form.
+func expectSame[M, C any](t *testing.T, trace func(M, C, int64) ([]C, int64), run func(M, C, int64) (C, int64, bool, int64), m, changed M, c C, form func(C) C) {
+	t.Helper()
+	before, _ := trace(m, c, impl.MaxTrace)
+	var want []C
+	for _, each := range before {
+		want = append(want, form(each))
+	}
+	got, code := trace(changed, form(c), impl.MaxTrace)
+	expect(t, show(got, code), show(want, impl.OK))
+	end, steps, halts, code := run(m, c, 150)
+	gotEnd, gotSteps, gotHalts, gotCode := run(changed, form(c), 150)
+	expect(t, show(gotEnd, gotSteps, gotHalts, gotCode), show(form(end), steps, halts, code))
 }

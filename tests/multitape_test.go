@@ -681,15 +681,8 @@ func TestPromise7NearlyFullTapes(t *testing.T) {
 		for range m.Tapes {
 			c.Tapes = append(c.Tapes, impl.Tape{Left: nearlyFull(random, plain), Right: nearlyFull(random, plain)})
 		}
-		before, made, code := beforeTrouble(newMultiModel(m, c), 150)
-		if made > 1 {
-			end, steps, halts, ok := impl.RunMulti(m, c, made-1)
-			expect(t, show(end, steps, halts, ok), show(before, made-1, code == impl.ErrState, impl.OK))
-		}
-		if code == impl.ErrFull {
+		if expectUntilTrouble(t, impl.StepMulti, impl.RunMulti, m, newMultiModel(m, c), 150) {
 			fullRuns++
-			expect(t, show(impl.RunMulti(m, c, made)), noMultiConfig+" 0 false 5")
-			expect(t, show(impl.StepMulti(m, before)), noMultiConfig+" 5")
 		}
 	}
 	if fullRuns < 50 {

@@ -49,6 +49,13 @@ var landed = map[string]any{
 	"StepMulti": impl.StepMulti, "RunMulti": impl.RunMulti, "TraceMulti": impl.TraceMulti, "TapeWord": impl.TapeWord,
 	"MultiSpace": impl.MultiSpace, "HaltingReads": impl.HaltingReads, "SequenceMulti": impl.SequenceMulti,
 	"PermuteTapes": impl.PermuteTapes, "CopyMulti": impl.CopyMulti, "PalindromeMulti": impl.PalindromeMulti,
+
+	"ValidProgram": impl.ValidProgram, "ProgramText": impl.ProgramText, "ReadProgram": impl.ReadProgram,
+	"ValidStore": impl.ValidStore, "StartStore": impl.StartStore, "StoreText": impl.StoreText, "ReadStore": impl.ReadStore,
+	"StepProgram": impl.StepProgram, "RunProgram": impl.RunProgram, "TraceProgram": impl.TraceProgram,
+	"RegistersOf": impl.RegistersOf, "MapRegisters": impl.MapRegisters, "PruneProgram": impl.PruneProgram,
+	"JoinPrograms": impl.JoinPrograms, "LoopProgram": impl.LoopProgram, "BranchProgram": impl.BranchProgram,
+	"ClearRegister": impl.ClearRegister, "MoveRegister": impl.MoveRegister, "CopyRegister": impl.CopyRegister,
 }
 
 var sampleNumbers = []int64{
@@ -63,6 +70,7 @@ var sampleTexts = []string{
 	strings.TrimSuffix(strings.Repeat("7,", 64), ","), strings.TrimSuffix(strings.Repeat("7,", 65), ","),
 	";", "---", "---,---", "---,---;", "0R0,0L0", "0R1,0L0", "1R1,1L1;1L0,---", "1R1,1L1;1L0", "(0)", "(1)", "(-1)", "1(1)111", "01(1)0", "()", ")(",
 	"2 2 1", "2 2 1\n", "3 3 16", "2 2 1\n0 10 11 RR 0", "2 2 1\n0 10 11 RR 0\n0 11 11 SS 0", "2 2 1\n0 10 11 RR", "2 2 1\n0 10 11 RX 0", "2 2 1\n0 1x 11 RR 0", "\n",
+	".", adder, "+0>1", "+0>2", "+0>1;", "-23>0:1", "-0>1", "+24>1", "0:" + contentsText(), "1:" + contentsText(3, 2), "0:" + contentsText(impl.MaxCount+1), "0:0",
 }
 
 var sampleLists = [][]int64{
@@ -70,7 +78,7 @@ var sampleLists = [][]int64{
 	{0, 0, 1}, {1, 0, 1}, {0, 0, 0, 1}, {impl.MaxValue}, {impl.MaxValue + 1}, {-impl.MaxValue}, {math.MinInt64, math.MaxInt64},
 	{9}, {10}, {0, 3}, {1, 1, 0, 1, 0}, {12}, {797}, {796, 797}, {798}, {799}, {800},
 	repeat(999999, 20), repeat(999999, 40), repeat(999999, 41), repeat(1, 64), repeat(1, 65), repeat(1, 800), repeat(1, 801), repeat(0, 801),
-	repeat(0, 24), repeat(0, 25), repeat(0, 400), repeat(9, 400), repeat(9, 401), append(repeat(0, 20), 1), append(repeat(0, 39), 500000),
+	repeat(0, 24), repeat(0, 25), allRegisters(nil), allRegisters(map[int]int64{0: 23, 23: 0}), allRegisters(nil)[1:], {impl.MaxCount}, {impl.MaxCount + 1}, repeat(0, 400), repeat(9, 400), repeat(9, 401), append(repeat(0, 20), 1), append(repeat(0, 39), 500000),
 }
 
 // Where a function has many parameters, these are enough.
@@ -88,9 +96,9 @@ var sampleTables = [][][]int64{
 
 // samplesOf returns values of the type of a parameter; each call makes the slices anew, with unused capacity.
 func samplesOf(p reflect.Type, few bool) []reflect.Value {
-	numbers, lists := sampleNumbers, sampleLists
+	numbers, lists, programs := sampleNumbers, sampleLists, samplePrograms()
 	if few {
-		numbers, lists = fewNumbers, fewLists
+		numbers, lists, programs = fewNumbers, fewLists, fewPrograms()
 	}
 	var values []reflect.Value
 	switch p {
@@ -116,6 +124,10 @@ func samplesOf(p reflect.Type, few bool) []reflect.Value {
 		values = valuesOf(sampleMultiConfigs())
 	case reflect.TypeFor[impl.Tape]():
 		values = valuesOf(sampleTapes())
+	case reflect.TypeFor[[]impl.Instr]():
+		values = valuesOf(programs)
+	case reflect.TypeFor[impl.Store]():
+		values = valuesOf(sampleStores())
 	}
 	for i, v := range values {
 		values[i] = withSpare(v)
@@ -348,6 +360,16 @@ func TestPromise1OneArgumentTwice(t *testing.T) {
 				t.Errorf("%s for one argument twice: %s, for equal ones: %s", name, resultText(together), resultText(separate))
 			}
 		}
+	}
+}
+
+func TestPromise1OneProgramInTwoPlaces(t *testing.T) {
+	branch := reflect.ValueOf(impl.BranchProgram)
+	for _, v := range samplesOf(reflect.TypeFor[[]impl.Instr](), false) {
+		same := []reflect.Value{reflect.ValueOf(int64(3)), v, v}
+		checkCall(t, "BranchProgram", branch, same)
+		equal := []reflect.Value{same[0], withSpare(v), withSpare(v)}
+		expect(t, resultText(branch.Call(same)), resultText(branch.Call(equal)))
 	}
 }
 

@@ -535,16 +535,7 @@ func TestPromise6NearlyFullTapes(t *testing.T) {
 	for range 300 {
 		m := randomMachine(random, 2+random.Int63n(2), 2+random.Int63n(3), 40)
 		x := newModel(m, impl.Config{Left: nearlyFull(random, m), Right: nearlyFull(random, m)})
-		c := x.config()
-		before, made, code := beforeTrouble(x, 300)
-		if made > 1 {
-			end, steps, halts, ok := impl.RunMachine(m, c, made-1)
-			expect(t, show(end, steps, halts, ok), show(before, made-1, code == impl.ErrState, impl.OK))
-		}
-		if code == impl.ErrFull {
-			expect(t, show(impl.RunMachine(m, c, made)), "{0 [] []} 0 false 5")
-			expect(t, show(impl.StepMachine(m, before)), "{0 [] []} 5")
-		}
+		expectUntilTrouble(t, impl.StepMachine, impl.RunMachine, m, x, 300)
 	}
 }
 
@@ -623,14 +614,7 @@ func inverse(order []int64) []int64 {
 // expectSameRuns compares the run of m from c with that of a changed machine, in which the configurations have another form.
 func expectSameRuns(t *testing.T, m, changed impl.Machine, c impl.Config, form func(impl.Config) impl.Config) {
 	t.Helper()
-	trace, _ := impl.TraceMachine(m, c, impl.MaxTrace)
-	var want []impl.Config
-	for _, each := range trace {
-		want = append(want, form(each))
-	}
-	expect(t, show(impl.TraceMachine(changed, form(c), impl.MaxTrace)), show(want, impl.OK))
-	end, steps, halts, code := impl.RunMachine(m, c, 150)
-	expect(t, show(impl.RunMachine(changed, form(c), 150)), show(form(end), steps, halts, code))
+	expectSame(t, impl.TraceMachine, impl.RunMachine, m, changed, c, form)
 }
 
 func TestPromise6SwappedSymbols(t *testing.T) {
