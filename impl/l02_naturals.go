@@ -31,9 +31,9 @@ func IsNatural(n []int64) bool {
 
 func areNaturals(lists ...[]int64) bool { return eachIs(IsNatural, lists) }
 
-func eachIs(valid func([]int64) bool, lists [][]int64) bool {
-	for _, list := range lists {
-		if !valid(list) {
+func eachIs[V any](valid func(V) bool, list []V) bool {
+	for _, element := range list {
+		if !valid(element) {
 			return false
 		}
 	}

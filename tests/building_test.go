@@ -30,7 +30,7 @@ type deed func(w *worker) bool
 
 func deedOf(p []impl.Instr) deed {
 	return func(w *worker) bool {
-		m := storeModel{p, impl.Store{Contents: w.contents}}
+		m := storeModel{p, impl.Store{Contents: w.contents}, impl.MaxCount}
 		for ; !m.halts(); w.left-- {
 			if w.left == 0 {
 				return false

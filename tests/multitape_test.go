@@ -228,6 +228,8 @@ func forSomeMultis(seed int64, many int, check func(random *rand.Rand, m impl.Mu
 	}
 }
 
+var multiCalls = calls[impl.Multi, impl.MultiConfig]{impl.StepMulti, impl.RunMulti, impl.TraceMulti}
+
 // multiModel runs a machine on long lists of cells, in the plainest way.
 type multiModel struct {
 	m     impl.Multi
@@ -681,7 +683,7 @@ func TestPromise7NearlyFullTapes(t *testing.T) {
 		for range m.Tapes {
 			c.Tapes = append(c.Tapes, impl.Tape{Left: nearlyFull(random, plain), Right: nearlyFull(random, plain)})
 		}
-		if expectUntilTrouble(t, impl.StepMulti, impl.RunMulti, m, newMultiModel(m, c), 150) {
+		if multiCalls.expectUntilTrouble(t, m, newMultiModel(m, c), 150) {
 			fullRuns++
 		}
 	}

@@ -56,6 +56,12 @@ var landed = map[string]any{
 	"RegistersOf": impl.RegistersOf, "MapRegisters": impl.MapRegisters, "PruneProgram": impl.PruneProgram,
 	"JoinPrograms": impl.JoinPrograms, "LoopProgram": impl.LoopProgram, "BranchProgram": impl.BranchProgram,
 	"ClearRegister": impl.ClearRegister, "MoveRegister": impl.MoveRegister, "CopyRegister": impl.CopyRegister,
+
+	"IsTwoCounter": impl.IsTwoCounter, "StepCounters": impl.StepCounters, "RunCounters": impl.RunCounters,
+	"TraceCounters": impl.TraceCounters, "CountersText": impl.CountersText, "ReadCounters": impl.ReadCounters,
+	"ValidFractions": impl.ValidFractions, "FractionsText": impl.FractionsText, "ReadFractions": impl.ReadFractions,
+	"ReduceFractions": impl.ReduceFractions, "FractionPrimes": impl.FractionPrimes, "StepFractions": impl.StepFractions,
+	"RunFractions": impl.RunFractions, "PowersSeen": impl.PowersSeen, "ExponentsAt": impl.ExponentsAt, "KnownFractions": impl.KnownFractions,
 }
 
 var sampleNumbers = []int64{
@@ -71,6 +77,7 @@ var sampleTexts = []string{
 	";", "---", "---,---", "---,---;", "0R0,0L0", "0R1,0L0", "1R1,1L1;1L0,---", "1R1,1L1;1L0", "(0)", "(1)", "(-1)", "1(1)111", "01(1)0", "()", ")(",
 	"2 2 1", "2 2 1\n", "3 3 16", "2 2 1\n0 10 11 RR 0", "2 2 1\n0 10 11 RR 0\n0 11 11 SS 0", "2 2 1\n0 10 11 RR", "2 2 1\n0 10 11 RX 0", "2 2 1\n0 1x 11 RR 0", "\n",
 	".", adder, "+0>1", "+0>2", "+0>1;", "-23>0:1", "-0>1", "+24>1", "0:" + contentsText(), "1:" + contentsText(3, 2), "0:" + contentsText(impl.MaxCount+1), "0:0",
+	"0:0:0", "2:0:1000000000000", "2:0:1000000000001", "0:0:0:0", "0:-1:0", "0:01:0", "3/2", "3/2 ", "4/2 6/4", "3/0", "3/1000000", "999999/999999", "3", "/", "3/2 x", "1/1  1/1",
 }
 
 var sampleLists = [][]int64{
@@ -96,9 +103,9 @@ var sampleTables = [][][]int64{
 
 // samplesOf returns values of the type of a parameter; each call makes the slices anew, with unused capacity.
 func samplesOf(p reflect.Type, few bool) []reflect.Value {
-	numbers, lists, programs := sampleNumbers, sampleLists, samplePrograms()
+	numbers, lists, programs, fractions := sampleNumbers, sampleLists, samplePrograms(), sampleFractions()
 	if few {
-		numbers, lists, programs = fewNumbers, fewLists, fewPrograms()
+		numbers, lists, programs, fractions = fewNumbers, fewLists, fewPrograms(), fewFractions()
 	}
 	var values []reflect.Value
 	switch p {
@@ -128,6 +135,10 @@ func samplesOf(p reflect.Type, few bool) []reflect.Value {
 		values = valuesOf(programs)
 	case reflect.TypeFor[impl.Store]():
 		values = valuesOf(sampleStores())
+	case reflect.TypeFor[impl.Counters]():
+		values = valuesOf(sampleCounters)
+	case reflect.TypeFor[[]impl.Fraction]():
+		values = valuesOf(fractions)
 	}
 	for i, v := range values {
 		values[i] = withSpare(v)
@@ -333,21 +344,29 @@ func checkCall(t *testing.T, name string, f reflect.Value, args []reflect.Value)
 	}
 }
 
-func TestPromise1EveryCall(t *testing.T) {
+// forEachLanded checks the functions that have landed side by side.
+func forEachLanded(t *testing.T, check func(t *testing.T, name string, f reflect.Value)) {
 	for name, call := range landed {
-		f := reflect.ValueOf(call)
-		for _, args := range argumentsFor(f.Type()) {
-			checkCall(t, name, f, args)
-		}
+		t.Run(name, func(t *testing.T) {
+			t.Parallel()
+			check(t, name, reflect.ValueOf(call))
+		})
 	}
 }
 
+func TestPromise1EveryCall(t *testing.T) {
+	forEachLanded(t, func(t *testing.T, name string, f reflect.Value) {
+		for _, args := range argumentsFor(f.Type()) {
+			checkCall(t, name, f, args)
+		}
+	})
+}
+
 func TestPromise1OneArgumentTwice(t *testing.T) {
-	for name, call := range landed {
-		f := reflect.ValueOf(call)
+	forEachLanded(t, func(t *testing.T, name string, f reflect.Value) {
 		many := f.Type().NumIn()
 		if many < 2 || !areAlike(f.Type()) {
-			continue
+			return
 		}
 		for _, v := range samplesOf(f.Type().In(0), false) {
 			same := slices.Repeat([]reflect.Value{v}, many)
@@ -360,7 +379,7 @@ func TestPromise1OneArgumentTwice(t *testing.T) {
 				t.Errorf("%s for one argument twice: %s, for equal ones: %s", name, resultText(together), resultText(separate))
 			}
 		}
-	}
+	})
 }
 
 func TestPromise1OneProgramInTwoPlaces(t *testing.T) {
@@ -384,22 +403,20 @@ func areAlike(f reflect.Type) bool {
 }
 
 func TestPromise1OneListInATable(t *testing.T) {
-	for name, call := range landed {
-		f := reflect.ValueOf(call)
+	forEachLanded(t, func(t *testing.T, name string, f reflect.Value) {
 		if f.Type().NumIn() != 1 || f.Type().In(0) != reflect.TypeFor[[][]int64]() {
-			continue
+			return
 		}
 		for _, v := range samplesOf(reflect.TypeFor[[]int64](), false) {
 			same := v.Interface().([]int64)
 			checkCall(t, name, f, []reflect.Value{reflect.ValueOf([][]int64{same, same})})
 		}
-	}
+	})
 }
 
 // Lists of one argument may be the same one: both sides of a tape, what a rule reads and writes, all tapes.
 func TestPromise1OneListInAnArgument(t *testing.T) {
-	for name, call := range landed {
-		f := reflect.ValueOf(call)
+	forEachLanded(t, func(t *testing.T, name string, f reflect.Value) {
 		for _, args := range argumentsFor(f.Type()) {
 			changed := false
 			for _, v := range args {
@@ -409,7 +426,7 @@ func TestPromise1OneListInAnArgument(t *testing.T) {
 				checkCall(t, name, f, args)
 			}
 		}
-	}
+	})
 }
 
 // shareLists makes all lists in a struct the first one of them, and all tapes the first one, and reports whether there are any.
@@ -461,8 +478,7 @@ func swapEmpty(v reflect.Value) reflect.Value {
 }
 
 func TestPromise1NilIsEmpty(t *testing.T) {
-	for name, call := range landed {
-		f := reflect.ValueOf(call)
+	forEachLanded(t, func(t *testing.T, name string, f reflect.Value) {
 		for _, args := range argumentsFor(f.Type()) {
 			var swapped []reflect.Value
 			for _, v := range args {
@@ -472,7 +488,7 @@ func TestPromise1NilIsEmpty(t *testing.T) {
 				t.Errorf("%s for %s: %s, but %s with nil and empty lists exchanged", name, wholeText(args), a, b)
 			}
 		}
-	}
+	})
 }
 
 // wipe sets all elements of slices to zero, also in their unused capacity.
@@ -492,8 +508,7 @@ func wipe(v reflect.Value) {
 
 // What is returned must not be kept either: a caller may change it without an effect on later calls.
 func TestPromise1ResultsAreNotKept(t *testing.T) {
-	for name, call := range landed {
-		f := reflect.ValueOf(call)
+	forEachLanded(t, func(t *testing.T, name string, f reflect.Value) {
 		for _, args := range argumentsFor(f.Type()) {
 			results := f.Call(args)
 			before := resultText(results)
@@ -504,7 +519,7 @@ func TestPromise1ResultsAreNotKept(t *testing.T) {
 				t.Errorf("%s for %s: %s, and %s after its results have been changed", name, wholeText(args), before, after)
 			}
 		}
-	}
+	})
 }
 
 func TestPromise1OrderOfErrors(t *testing.T) {

@@ -131,13 +131,18 @@ func copiedStore(x impl.Store) impl.Store {
 	return impl.Store{At: x.At, Contents: slices.Clone(x.Contents)}
 }
 
-// storeModel runs a program in the plainest way.
+var programCalls = calls[[]impl.Instr, impl.Store]{impl.StepProgram, impl.RunProgram, impl.TraceProgram}
+
+// storeModel runs a program in the plainest way, with contents up to most.
 type storeModel struct {
-	p []impl.Instr
-	x impl.Store
+	p    []impl.Instr
+	x    impl.Store
+	most int64
 }
 
-func newStoreModel(p []impl.Instr, x impl.Store) *storeModel { return &storeModel{p, copiedStore(x)} }
+func newStoreModel(p []impl.Instr, x impl.Store) *storeModel {
+	return &storeModel{p, copiedStore(x), 1000000}
+}
 
 func (m *storeModel) config() impl.Store { return copiedStore(m.x) }
 
@@ -151,7 +156,7 @@ func (m *storeModel) step() int64 {
 	if i.Kind == impl.InstrInc {
 		m.x.Contents[i.Register]++
 		m.x.At = i.Then
-		if m.x.Contents[i.Register] > 1000000 {
+		if m.x.Contents[i.Register] > m.most {
 			return impl.ErrFull
 		}
 		return impl.OK
@@ -390,21 +395,7 @@ func TestPromise8SingleSteps(t *testing.T) {
 // Runs of each length up to one that is too long are compared with the model: where they end, and what is on the way.
 func TestPromise8RunsAreThoseOfTheModel(t *testing.T) {
 	forSomePrograms(83, 600, func(_ *rand.Rand, p []impl.Instr, x impl.Store) {
-		m := newStoreModel(p, x)
-		trace := []impl.Store{x}
-		for budget := int64(1); budget <= impl.MaxTrace; budget++ {
-			before := m.config()
-			code := m.step()
-			if code == impl.OK {
-				expect(t, show(impl.StepProgram(p, before)), show(m.config(), impl.OK))
-				trace = append(trace, m.config())
-			} else {
-				expect(t, show(impl.StepProgram(p, before)), show(impl.Store{}, code))
-			}
-			expect(t, show(impl.RunProgram(p, x, budget)), show(m.config(), len(trace)-1, m.halts(), impl.OK))
-			expect(t, show(impl.TraceProgram(p, x, budget)), show(trace, impl.OK))
-		}
-		expect(t, show(impl.TraceProgram(p, x, 0)), show([]impl.Store{x}, impl.OK))
+		programCalls.expectRuns(t, p, newStoreModel(p, x))
 	})
 }
 
@@ -476,7 +467,7 @@ func TestPromise8NearlyFullRegisters(t *testing.T) {
 		for register := range x.Contents {
 			x.Contents[register] = impl.MaxCount - random.Int63n(4)
 		}
-		if expectUntilTrouble(t, impl.StepProgram, impl.RunProgram, p, newStoreModel(p, x), 60) {
+		if programCalls.expectUntilTrouble(t, p, newStoreModel(p, x), 60) {
 			fullRuns++
 		}
 	})
@@ -495,22 +486,12 @@ func TestPromise8InvalidRuns(t *testing.T) {
 		stores = append(stores, storeAt(at), storeAt(at, repeat(impl.MaxCount, 24)...))
 	}
 	for _, x := range stores {
-		expectNoRuns(t, p, x)
+		programCalls.expectInvalid(t, p, x)
 	}
 	for _, bad := range badPrograms() {
-		expectNoRuns(t, bad, storeAt(0))
-		expectNoRuns(t, bad, storeAt(int64(len(bad))))
-		expectNoRuns(t, bad, storeAt(0, repeat(impl.MaxCount, 24)...))
-	}
-}
-
-// expectNoRuns checks that there are no runs, also if there is something wrong with the number of steps.
-func expectNoRuns(t *testing.T, p []impl.Instr, x impl.Store) {
-	t.Helper()
-	expect(t, show(impl.StepProgram(p, x)), noStore+" 1")
-	for _, steps := range []int64{1, 0, -1, impl.MaxTrace + 1, impl.MaxBudget + 1} {
-		expect(t, show(impl.RunProgram(p, x, steps)), noStore+" 0 false 1")
-		expect(t, show(impl.TraceProgram(p, x, steps)), "[] 1")
+		programCalls.expectInvalid(t, bad, storeAt(0))
+		programCalls.expectInvalid(t, bad, storeAt(int64(len(bad))))
+		programCalls.expectInvalid(t, bad, storeAt(0, repeat(impl.MaxCount, 24)...))
 	}
 }
 
@@ -616,7 +597,7 @@ func TestPromise8MappedRegisters(t *testing.T) {
 // expectSamePrograms compares the run of p from x with that of a changed program, for which the stores have another form.
 func expectSamePrograms(t *testing.T, p, changed []impl.Instr, x impl.Store, form func(impl.Store) impl.Store) {
 	t.Helper()
-	expectSame(t, impl.TraceProgram, impl.RunProgram, p, changed, x, form)
+	programCalls.expectSame(t, p, changed, x, form)
 }
 
 // allRegisters returns a list of all registers in which some of them are replaced.

@@ -117,6 +117,8 @@ func withoutBlanks(side []int64) []int64 {
 	return side
 }
 
+var machineCalls = calls[impl.Machine, impl.Config]{impl.StepMachine, impl.RunMachine, impl.TraceMachine}
+
 // model runs a machine on a long list of cells, in the plainest way.
 type model struct {
 	m     impl.Machine
@@ -535,7 +537,7 @@ func TestPromise6NearlyFullTapes(t *testing.T) {
 	for range 300 {
 		m := randomMachine(random, 2+random.Int63n(2), 2+random.Int63n(3), 40)
 		x := newModel(m, impl.Config{Left: nearlyFull(random, m), Right: nearlyFull(random, m)})
-		expectUntilTrouble(t, impl.StepMachine, impl.RunMachine, m, x, 300)
+		machineCalls.expectUntilTrouble(t, m, x, 300)
 	}
 }
 
@@ -614,7 +616,7 @@ func inverse(order []int64) []int64 {
 // expectSameRuns compares the run of m from c with that of a changed machine, in which the configurations have another form.
 func expectSameRuns(t *testing.T, m, changed impl.Machine, c impl.Config, form func(impl.Config) impl.Config) {
 	t.Helper()
-	expectSame(t, impl.TraceMachine, impl.RunMachine, m, changed, c, form)
+	machineCalls.expectSame(t, m, changed, c, form)
 }
 
 func TestPromise6SwappedSymbols(t *testing.T) {
