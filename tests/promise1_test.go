@@ -62,6 +62,12 @@ var landed = map[string]any{
 	"ValidFractions": impl.ValidFractions, "FractionsText": impl.FractionsText, "ReadFractions": impl.ReadFractions,
 	"ReduceFractions": impl.ReduceFractions, "FractionPrimes": impl.FractionPrimes, "StepFractions": impl.StepFractions,
 	"RunFractions": impl.RunFractions, "PowersSeen": impl.PowersSeen, "ExponentsAt": impl.ExponentsAt, "KnownFractions": impl.KnownFractions,
+
+	"ValidTag": impl.ValidTag, "TagText": impl.TagText, "ReadTag": impl.ReadTag, "StepTag": impl.StepTag, "RunTag": impl.RunTag,
+	"TraceTag": impl.TraceTag, "TagLengths": impl.TagLengths, "TagCycle": impl.TagCycle, "CollatzTag": impl.CollatzTag,
+	"CollatzNumbers": impl.CollatzNumbers, "ValidCyclic": impl.ValidCyclic, "CyclicText": impl.CyclicText,
+	"ReadCyclic": impl.ReadCyclic, "ValidTurn": impl.ValidTurn, "StepCyclic": impl.StepCyclic, "RunCyclic": impl.RunCyclic,
+	"TraceCyclic": impl.TraceCyclic,
 }
 
 var sampleNumbers = []int64{
@@ -78,6 +84,7 @@ var sampleTexts = []string{
 	"2 2 1", "2 2 1\n", "3 3 16", "2 2 1\n0 10 11 RR 0", "2 2 1\n0 10 11 RR 0\n0 11 11 SS 0", "2 2 1\n0 10 11 RR", "2 2 1\n0 10 11 RX 0", "2 2 1\n0 1x 11 RR 0", "\n",
 	".", adder, "+0>1", "+0>2", "+0>1;", "-23>0:1", "-0>1", "+24>1", "0:" + contentsText(), "1:" + contentsText(3, 2), "0:" + contentsText(impl.MaxCount+1), "0:0",
 	"0:0:0", "2:0:1000000000000", "2:0:1000000000001", "0:0:0:0", "0:-1:0", "0:01:0", "3/2", "3/2 ", "4/2 6/4", "3/0", "3/1000000", "999999/999999", "3", "/", "3/2 x", "1/1  1/1",
+	collatz, "1:-:-", "1:0:0", "4:0.1,-:0.1", "0:0:-", "5:0:-", "1:0:1", "1:1:-", "1:0,0:1.0", "1:0", "1:0.:-", "1.1,0", "-,-", "1.2", "0.1.", "0,,1",
 }
 
 var sampleLists = [][]int64{
@@ -86,6 +93,7 @@ var sampleLists = [][]int64{
 	{9}, {10}, {0, 3}, {1, 1, 0, 1, 0}, {12}, {797}, {796, 797}, {798}, {799}, {800},
 	repeat(999999, 20), repeat(999999, 40), repeat(999999, 41), repeat(1, 64), repeat(1, 65), repeat(1, 800), repeat(1, 801), repeat(0, 801),
 	repeat(0, 24), repeat(0, 25), allRegisters(nil), allRegisters(map[int]int64{0: 23, 23: 0}), allRegisters(nil)[1:], {impl.MaxCount}, {impl.MaxCount + 1}, repeat(0, 400), repeat(9, 400), repeat(9, 401), append(repeat(0, 20), 1), append(repeat(0, 39), 500000),
+	repeat(0, 1000), repeat(0, 1001), {0, 2, 1}, {199, 0},
 }
 
 // Where a function has many parameters, these are enough.
@@ -103,9 +111,12 @@ var sampleTables = [][][]int64{
 
 // samplesOf returns values of the type of a parameter; each call makes the slices anew, with unused capacity.
 func samplesOf(p reflect.Type, few bool) []reflect.Value {
-	numbers, lists, programs, fractions := sampleNumbers, sampleLists, samplePrograms(), sampleFractions()
+	numbers, lists := sampleNumbers, sampleLists
+	// These are made only where they are needed.
+	programs, fractions, tags := samplePrograms, sampleFractions, sampleTags
 	if few {
-		numbers, lists, programs, fractions = fewNumbers, fewLists, fewPrograms(), fewFractions()
+		numbers, lists = fewNumbers, fewLists
+		programs, fractions, tags = fewPrograms, fewFractions, fewTags
 	}
 	var values []reflect.Value
 	switch p {
@@ -132,13 +143,19 @@ func samplesOf(p reflect.Type, few bool) []reflect.Value {
 	case reflect.TypeFor[impl.Tape]():
 		values = valuesOf(sampleTapes())
 	case reflect.TypeFor[[]impl.Instr]():
-		values = valuesOf(programs)
+		values = valuesOf(programs())
 	case reflect.TypeFor[impl.Store]():
 		values = valuesOf(sampleStores())
 	case reflect.TypeFor[impl.Counters]():
 		values = valuesOf(sampleCounters)
 	case reflect.TypeFor[[]impl.Fraction]():
-		values = valuesOf(fractions)
+		values = valuesOf(fractions())
+	case reflect.TypeFor[impl.Tag]():
+		values = valuesOf(tags())
+	case reflect.TypeFor[impl.Cyclic]():
+		values = valuesOf(sampleCyclics())
+	case reflect.TypeFor[impl.Turn]():
+		values = valuesOf(sampleTurns())
 	}
 	for i, v := range values {
 		values[i] = withSpare(v)
@@ -414,7 +431,7 @@ func TestPromise1OneListInATable(t *testing.T) {
 	})
 }
 
-// Lists of one argument may be the same one: both sides of a tape, what a rule reads and writes, all tapes.
+// Lists of one argument may be the same one: both sides of a tape, what a rule reads and writes, all tapes, all words.
 func TestPromise1OneListInAnArgument(t *testing.T) {
 	forEachLanded(t, func(t *testing.T, name string, f reflect.Value) {
 		for _, args := range argumentsFor(f.Type()) {
@@ -429,7 +446,8 @@ func TestPromise1OneListInAnArgument(t *testing.T) {
 	})
 }
 
-// shareLists makes all lists in a struct the first one of them, and all tapes the first one, and reports whether there are any.
+// shareLists makes all lists in a struct the first one of them, and all tapes and all lists of a table the first one, and
+// reports whether there are any.
 func shareLists(v reflect.Value) bool {
 	shared := false
 	switch {
@@ -443,6 +461,11 @@ func shareLists(v reflect.Value) bool {
 			shared = shareLists(field) || shared
 		}
 		return shared || len(lists) > 1
+	case v.Type() == reflect.TypeFor[[][]int64]():
+		for i, element := range elementsOf(v) {
+			shared = shared || i > 0
+			element.Set(v.Index(0))
+		}
 	case v.Kind() == reflect.Slice && v.Type().Elem().Kind() == reflect.Struct:
 		for i, element := range elementsOf(v) {
 			shared = shareLists(element) || shared
@@ -452,6 +475,27 @@ func shareLists(v reflect.Value) bool {
 		}
 	}
 	return shared
+}
+
+// A word may be one of those of its tag system, and its halting letters.
+func TestPromise1OneListInATagSystem(t *testing.T) {
+	forEachLanded(t, func(t *testing.T, name string, f reflect.Value) {
+		for _, v := range samplesOf(reflect.TypeFor[[]int64](), false) {
+			w := v.Interface().([]int64)
+			tag := impl.Tag{Delete: 1, Words: [][]int64{w, w}}
+			halting, cyclic, turn := impl.Tag{Delete: 1, Words: [][]int64{w, nil}, Halting: w}, impl.Cyclic{Words: [][]int64{w, w}}, impl.Turn{Word: w}
+			for _, both := range [][2]any{{tag, w}, {halting, w}, {cyclic, turn}} {
+				args := valuesOf(both[:])
+				if f.Type().NumIn() < 2 || f.Type().In(0) != args[0].Type() || f.Type().In(1) != args[1].Type() {
+					continue
+				}
+				if f.Type().NumIn() > 2 {
+					args = append(args, reflect.ValueOf(int64(7)))
+				}
+				checkCall(t, name, f, args)
+			}
+		}
+	})
 }
 
 // swapEmpty returns a value in which nil and empty slices are exchanged.
