@@ -68,6 +68,13 @@ var landed = map[string]any{
 	"CollatzNumbers": impl.CollatzNumbers, "ValidCyclic": impl.ValidCyclic, "CyclicText": impl.CyclicText,
 	"ReadCyclic": impl.ReadCyclic, "ValidTurn": impl.ValidTurn, "StepCyclic": impl.StepCyclic, "RunCyclic": impl.RunCyclic,
 	"TraceCyclic": impl.TraceCyclic,
+
+	"ValidRewrites": impl.ValidRewrites, "RewritesText": impl.RewritesText, "ReadRewrites": impl.ReadRewrites,
+	"ApplyRewrite": impl.ApplyRewrite, "SuccessorsOf": impl.SuccessorsOf, "IsNormalWord": impl.IsNormalWord,
+	"CheckDerivation": impl.CheckDerivation, "ReachWords": impl.ReachWords, "DerivationOf": impl.DerivationOf,
+	"NormalFormsOf": impl.NormalFormsOf, "ReverseRewrites": impl.ReverseRewrites, "OverlapsOf": impl.OverlapsOf,
+	"AreJoinable": impl.AreJoinable, "ValidMarkov": impl.ValidMarkov, "MarkovText": impl.MarkovText, "ReadMarkov": impl.ReadMarkov,
+	"StepMarkov": impl.StepMarkov, "RunMarkov": impl.RunMarkov,
 }
 
 var sampleNumbers = []int64{
@@ -84,6 +91,7 @@ var sampleTexts = []string{
 	"2 2 1", "2 2 1\n", "3 3 16", "2 2 1\n0 10 11 RR 0", "2 2 1\n0 10 11 RR 0\n0 11 11 SS 0", "2 2 1\n0 10 11 RR", "2 2 1\n0 10 11 RX 0", "2 2 1\n0 1x 11 RR 0", "\n",
 	".", adder, "+0>1", "+0>2", "+0>1;", "-23>0:1", "-0>1", "+24>1", "0:" + contentsText(), "1:" + contentsText(3, 2), "0:" + contentsText(impl.MaxCount+1), "0:0",
 	"0:0:0", "2:0:1000000000000", "2:0:1000000000001", "0:0:0:0", "0:-1:0", "0:01:0", "3/2", "3/2 ", "4/2 6/4", "3/0", "3/1000000", "999999/999999", "3", "/", "3/2 x", "1/1  1/1",
+	"10>01", "01>2 12>0", "->1", "1>-", "1>- ->2.", "10>01 ", "1>0..", "1>0>1", ">", "->-.", "0>10",
 	collatz, "1:-:-", "1:0:0", "4:0.1,-:0.1", "0:0:-", "5:0:-", "1:0:1", "1:1:-", "1:0,0:1.0", "1:0", "1:0.:-", "1.1,0", "-,-", "1.2", "0.1.", "0,,1",
 }
 
@@ -113,10 +121,10 @@ var sampleTables = [][][]int64{
 func samplesOf(p reflect.Type, few bool) []reflect.Value {
 	numbers, lists := sampleNumbers, sampleLists
 	// These are made only where they are needed.
-	programs, fractions, tags := samplePrograms, sampleFractions, sampleTags
+	programs, fractions, tags, rewrites := samplePrograms, sampleFractions, sampleTags, sampleRewrites
 	if few {
 		numbers, lists = fewNumbers, fewLists
-		programs, fractions, tags = fewPrograms, fewFractions, fewTags
+		programs, fractions, tags, rewrites = fewPrograms, fewFractions, fewTags, fewRewrites
 	}
 	var values []reflect.Value
 	switch p {
@@ -156,6 +164,10 @@ func samplesOf(p reflect.Type, few bool) []reflect.Value {
 		values = valuesOf(sampleCyclics())
 	case reflect.TypeFor[impl.Turn]():
 		values = valuesOf(sampleTurns())
+	case reflect.TypeFor[[]impl.Rewrite]():
+		values = valuesOf(rewrites())
+	case reflect.TypeFor[[]impl.MarkovRule]():
+		values = valuesOf(sampleMarkovs())
 	}
 	for i, v := range values {
 		values[i] = withSpare(v)
@@ -496,6 +508,38 @@ func TestPromise1OneListInATagSystem(t *testing.T) {
 			}
 		}
 	})
+}
+
+// A word may also be both sides of the rules by which it is changed, and other words of a call.
+func TestPromise1OneListInRules(t *testing.T) {
+	forEachLanded(t, func(t *testing.T, name string, f reflect.Value) {
+		for _, v := range samplesOf(reflect.TypeFor[[]int64](), false) {
+			w := v.Interface().([]int64)
+			rewrites := []impl.Rewrite{rewrite(w, w), rewrite([]int64{0}, w)}
+			markov := []impl.MarkovRule{markovRule(w, w, false), markovRule(nil, w, true)}
+			for _, rules := range []any{rewrites, markov} {
+				args := argumentsWith(f.Type(), rules, w)
+				if args != nil {
+					checkCall(t, name, f, args)
+				}
+			}
+		}
+	})
+}
+
+// argumentsWith returns arguments for a function that takes rules and then lists, tables and numbers, with one list wherever
+// there may be one, and nil for other functions.
+func argumentsWith(f reflect.Type, rules any, list []int64) []reflect.Value {
+	var args []reflect.Value
+	for _, v := range []any{rules, list, [][]int64{{0, 0}, list, list}, int64(1)} {
+		for i := len(args); i < f.NumIn() && f.In(i) == reflect.TypeOf(v); i++ {
+			args = append(args, reflect.ValueOf(v))
+		}
+	}
+	if len(args) < f.NumIn() || len(args) == 0 || args[0].Type() != reflect.TypeOf(rules) {
+		return nil
+	}
+	return args
 }
 
 // swapEmpty returns a value in which nil and empty slices are exchanged.
