@@ -75,6 +75,11 @@ var landed = map[string]any{
 	"NormalFormsOf": impl.NormalFormsOf, "ReverseRewrites": impl.ReverseRewrites, "OverlapsOf": impl.OverlapsOf,
 	"AreJoinable": impl.AreJoinable, "ValidMarkov": impl.ValidMarkov, "MarkovText": impl.MarkovText, "ReadMarkov": impl.ReadMarkov,
 	"StepMarkov": impl.StepMarkov, "RunMarkov": impl.RunMarkov,
+
+	"ValidFunc": impl.ValidFunc, "ArityOf": impl.ArityOf, "FuncEnd": impl.FuncEnd, "IsPrimitive": impl.IsPrimitive,
+	"FuncText": impl.FuncText, "ReadFunc": impl.ReadFunc, "EvalFunc": impl.EvalFunc, "TableOf": impl.TableOf,
+	"ComposeFunc": impl.ComposeFunc, "RepeatFunc": impl.RepeatFunc, "LeastFunc": impl.LeastFunc, "ConstantFunc": impl.ConstantFunc,
+	"ReorderFunc": impl.ReorderFunc, "StandardFunc": impl.StandardFunc, "SearchesOf": impl.SearchesOf,
 }
 
 var sampleNumbers = []int64{
@@ -93,6 +98,8 @@ var sampleTexts = []string{
 	"0:0:0", "2:0:1000000000000", "2:0:1000000000001", "0:0:0:0", "0:-1:0", "0:01:0", "3/2", "3/2 ", "4/2 6/4", "3/0", "3/1000000", "999999/999999", "3", "/", "3/2 x", "1/1  1/1",
 	"10>01", "01>2 12>0", "->1", "1>-", "1>- ->2.", "10>01 ", "1>0..", "1>0>1", ">", "->-.", "0>10",
 	collatz, "1:-:-", "1:0:0", "4:0.1,-:0.1", "0:0:-", "5:0:-", "1:0:1", "1:1:-", "1:0,0:1.0", "1:0", "1:0.:-", "1.1,0", "-,-", "1.2", "0.1.", "0,,1",
+	"Z0", "Z5", "S", "P4.3", "P1.1", "C(S;Z0)", "C(P2.1;S,Z1)", "C(P2.1;S)", "R(Z0;P2.0)", "R(Z0;P1.0)", "M(S)", "M(Z0)", "C(S;", "pred", "add", "multiply", "minus", "sign", "not", "differ", "halve", "power",
+	strings.Repeat("C(S;", 29) + "Z1" + strings.Repeat(")", 29), strings.Repeat("C(S;", 30) + "Z1" + strings.Repeat(")", 30), strings.Repeat("M(", 10000),
 }
 
 var sampleLists = [][]int64{
@@ -121,10 +128,10 @@ var sampleTables = [][][]int64{
 func samplesOf(p reflect.Type, few bool) []reflect.Value {
 	numbers, lists := sampleNumbers, sampleLists
 	// These are made only where they are needed.
-	programs, fractions, tags, rewrites := samplePrograms, sampleFractions, sampleTags, sampleRewrites
+	programs, fractions, tags, rewrites, funcs := samplePrograms, sampleFractions, sampleTags, sampleRewrites, sampleFuncs
 	if few {
 		numbers, lists = fewNumbers, fewLists
-		programs, fractions, tags, rewrites = fewPrograms, fewFractions, fewTags, fewRewrites
+		programs, fractions, tags, rewrites, funcs = fewPrograms, fewFractions, fewTags, fewRewrites, fewFuncs
 	}
 	var values []reflect.Value
 	switch p {
@@ -168,6 +175,10 @@ func samplesOf(p reflect.Type, few bool) []reflect.Value {
 		values = valuesOf(rewrites())
 	case reflect.TypeFor[[]impl.MarkovRule]():
 		values = valuesOf(sampleMarkovs())
+	case reflect.TypeFor[[]impl.Func]():
+		values = valuesOf(funcs())
+	case reflect.TypeFor[[][]impl.Func]():
+		values = valuesOf(sampleFuncTables())
 	}
 	for i, v := range values {
 		values[i] = withSpare(v)
@@ -421,6 +432,20 @@ func TestPromise1OneProgramInTwoPlaces(t *testing.T) {
 	}
 }
 
+// A function may also be all of those of which another one is composed.
+func TestPromise1OneFunctionInAllPlaces(t *testing.T) {
+	compose := reflect.ValueOf(impl.ComposeFunc)
+	for _, v := range samplesOf(reflect.TypeFor[[]impl.Func](), false) {
+		f := v.Interface().([]impl.Func)
+		for _, inner := range [][][]impl.Func{{f}, {f, f}, {f, f, f, f}} {
+			same := []reflect.Value{v, reflect.ValueOf(inner)}
+			checkCall(t, "ComposeFunc", compose, same)
+			equal := []reflect.Value{withSpare(v), withSpare(same[1])}
+			expect(t, resultText(compose.Call(same)), resultText(compose.Call(equal)))
+		}
+	}
+}
+
 // areAlike reports whether all parameters have the type of the first one, with slices in it.
 func areAlike(f reflect.Type) bool {
 	for i := range f.NumIn() {
@@ -473,7 +498,7 @@ func shareLists(v reflect.Value) bool {
 			shared = shareLists(field) || shared
 		}
 		return shared || len(lists) > 1
-	case v.Type() == reflect.TypeFor[[][]int64]():
+	case v.Kind() == reflect.Slice && v.Type().Elem().Kind() == reflect.Slice:
 		for i, element := range elementsOf(v) {
 			shared = shared || i > 0
 			element.Set(v.Index(0))
