@@ -115,6 +115,7 @@ func TestPromise9SingleSteps(t *testing.T) {
 }
 
 func TestPromise9CountersRunAsTheModel(t *testing.T) {
+	t.Parallel()
 	full := 0
 	forSomeCounters(91, 600, func(random *rand.Rand, p []impl.Instr, c impl.Counters) {
 		counterCalls.expectRuns(t, p, newCounterModel(p, c))

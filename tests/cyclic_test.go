@@ -236,6 +236,7 @@ func TestPromise10EmptyQueues(t *testing.T) {
 }
 
 func TestPromise10CyclicsRunAsTheModel(t *testing.T) {
+	t.Parallel()
 	forSomeCyclics(111, 250, 0, func(_ *rand.Rand, c impl.Cyclic, x impl.Turn) {
 		cyclicCalls.expectRuns(t, c, newCyclicModel(c, x))
 	})
@@ -243,6 +244,7 @@ func TestPromise10CyclicsRunAsTheModel(t *testing.T) {
 
 // Near the greatest length, runs come to where the model has no place for more.
 func TestPromise10LongQueues(t *testing.T) {
+	t.Parallel()
 	forSomeCyclics(112, 8, 991, func(_ *rand.Rand, c impl.Cyclic, x impl.Turn) {
 		cyclicCalls.expectRuns(t, c, newCyclicModel(c, x))
 	})

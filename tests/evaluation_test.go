@@ -228,6 +228,7 @@ func TestPromise12GreatestBudget(t *testing.T) {
 
 // The value and the steps of a composition are those of its parts.
 func TestPromise12Compositions(t *testing.T) {
+	t.Parallel()
 	random := rand.New(rand.NewSource(242))
 	ended := 0
 	for range 3000 {
@@ -303,6 +304,7 @@ func TestPromise12Repetitions(t *testing.T) {
 
 // And for searches, with the function for 0, 1 and so on up to the value.
 func TestPromise12LeastZeros(t *testing.T) {
+	t.Parallel()
 	random := rand.New(rand.NewSource(244))
 	minus := funcOf(t, "C(R(P1.0;C(R(Z0;P2.0);P3.1));P2.1,P2.0)")
 	found := map[int64]int{}

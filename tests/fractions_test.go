@@ -306,6 +306,7 @@ func traceOfFractions(list []impl.Fraction, n []int64, steps int64) ([][]int64, 
 var fractionCalls = calls[[]impl.Fraction, []int64]{stepOf, impl.RunFractions, traceOfFractions}
 
 func TestPromise9FractionsRunAsTheModel(t *testing.T) {
+	t.Parallel()
 	forSomeFractions(t, 903, 250, func(_ *rand.Rand, list []impl.Fraction, n []int64) {
 		fractionCalls.expectRuns(t, list, newFractionModel(list, n))
 	})
@@ -476,6 +477,7 @@ func seenByModel(list []impl.Fraction, n []int64, p, budget int64) ([]int64, int
 }
 
 func TestPromise9SeenPowers(t *testing.T) {
+	t.Parallel()
 	many, full := 0, 0
 	forSomeFractions(t, 907, 1500, func(random *rand.Rand, list []impl.Fraction, n []int64) {
 		if random.Intn(2) == 0 {

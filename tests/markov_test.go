@@ -189,6 +189,7 @@ func TestPromise11SingleMarkovSteps(t *testing.T) {
 }
 
 func TestPromise11MarkovAsByModel(t *testing.T) {
+	t.Parallel()
 	codes := map[int64]int{}
 	check := func(_ *rand.Rand, list []impl.MarkovRule, w []int64) {
 		m := newMarkovModel(list, w)

@@ -520,6 +520,7 @@ func TestPromise7StepsAndRules(t *testing.T) {
 }
 
 func TestPromise7Runs(t *testing.T) {
+	t.Parallel()
 	forSomeMultis(72, 600, func(random *rand.Rand, m impl.Multi, c impl.MultiConfig) {
 		x := newMultiModel(m, c)
 		trace := []impl.MultiConfig{c}

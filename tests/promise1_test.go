@@ -80,6 +80,12 @@ var landed = map[string]any{
 	"FuncText": impl.FuncText, "ReadFunc": impl.ReadFunc, "EvalFunc": impl.EvalFunc, "TableOf": impl.TableOf,
 	"ComposeFunc": impl.ComposeFunc, "RepeatFunc": impl.RepeatFunc, "LeastFunc": impl.LeastFunc, "ConstantFunc": impl.ConstantFunc,
 	"ReorderFunc": impl.ReorderFunc, "StandardFunc": impl.StandardFunc, "SearchesOf": impl.SearchesOf,
+
+	"ValidLam": impl.ValidLam, "IsClosedLam": impl.IsClosedLam, "FreeIndices": impl.FreeIndices, "LamText": impl.LamText,
+	"ReadLam": impl.ReadLam, "ShiftLam": impl.ShiftLam, "SubstituteLam": impl.SubstituteLam, "BetaStep": impl.BetaStep,
+	"IsNormalLam": impl.IsNormalLam, "NormalizeLam": impl.NormalizeLam, "ApplyLam": impl.ApplyLam, "NumeralLam": impl.NumeralLam,
+	"NumeralValue": impl.NumeralValue, "ValidComb": impl.ValidComb, "CombText": impl.CombText, "ReadComb": impl.ReadComb,
+	"CombStep": impl.CombStep, "RunComb": impl.RunComb,
 }
 
 var sampleNumbers = []int64{
@@ -100,6 +106,7 @@ var sampleTexts = []string{
 	collatz, "1:-:-", "1:0:0", "4:0.1,-:0.1", "0:0:-", "5:0:-", "1:0:1", "1:1:-", "1:0,0:1.0", "1:0", "1:0.:-", "1.1,0", "-,-", "1.2", "0.1.", "0,,1",
 	"Z0", "Z5", "S", "P4.3", "P1.1", "C(S;Z0)", "C(P2.1;S,Z1)", "C(P2.1;S)", "R(Z0;P2.0)", "R(Z0;P1.0)", "M(S)", "M(Z0)", "C(S;", "pred", "add", "multiply", "minus", "sign", "not", "differ", "halve", "power",
 	strings.Repeat("C(S;", 29) + "Z1" + strings.Repeat(")", 29), strings.Repeat("C(S;", 30) + "Z1" + strings.Repeat(")", 30), strings.Repeat("M(", 10000),
+	"^0", "^^1", "(0 0)", "(0  0)", "(0 0", "^", "399", "400", "^^(1 (1 0))", "(^(0 0) ^0)", strings.Repeat("^", 399) + "0", strings.Repeat("^", 400) + "0", strings.Repeat("(0 ", 10000), "K", "I", "x0", "x399", "x400", "x", "(S K)", "(((S K) K) x0)", "(S ^0)", strings.Repeat("(I ", 199) + "I" + strings.Repeat(")", 199), strings.Repeat("(I ", 200) + "I" + strings.Repeat(")", 200), "x" + strings.Repeat("9", 400),
 }
 
 var sampleLists = [][]int64{
@@ -128,10 +135,10 @@ var sampleTables = [][][]int64{
 func samplesOf(p reflect.Type, few bool) []reflect.Value {
 	numbers, lists := sampleNumbers, sampleLists
 	// These are made only where they are needed.
-	programs, fractions, tags, rewrites, funcs := samplePrograms, sampleFractions, sampleTags, sampleRewrites, sampleFuncs
+	programs, fractions, tags, rewrites, funcs, terms := samplePrograms, sampleFractions, sampleTags, sampleRewrites, sampleFuncs, sampleLams
 	if few {
 		numbers, lists = fewNumbers, fewLists
-		programs, fractions, tags, rewrites, funcs = fewPrograms, fewFractions, fewTags, fewRewrites, fewFuncs
+		programs, fractions, tags, rewrites, funcs, terms = fewPrograms, fewFractions, fewTags, fewRewrites, fewFuncs, fewLams
 	}
 	var values []reflect.Value
 	switch p {
@@ -179,6 +186,12 @@ func samplesOf(p reflect.Type, few bool) []reflect.Value {
 		values = valuesOf(funcs())
 	case reflect.TypeFor[[][]impl.Func]():
 		values = valuesOf(sampleFuncTables())
+	case reflect.TypeFor[[]impl.Lam]():
+		values = valuesOf(terms())
+	case reflect.TypeFor[[][]impl.Lam]():
+		values = valuesOf(sampleLamTables())
+	case reflect.TypeFor[[]impl.Comb]():
+		values = valuesOf(sampleCombs())
 	}
 	for i, v := range values {
 		values[i] = withSpare(v)
@@ -442,6 +455,26 @@ func TestPromise1OneFunctionInAllPlaces(t *testing.T) {
 			checkCall(t, "ComposeFunc", compose, same)
 			equal := []reflect.Value{withSpare(v), withSpare(same[1])}
 			expect(t, resultText(compose.Call(same)), resultText(compose.Call(equal)))
+		}
+	}
+}
+
+// A term may also be the one that is put for a variable in it, and all arguments to which it is applied.
+func TestPromise1OneTermInAllPlaces(t *testing.T) {
+	substitute, apply := reflect.ValueOf(impl.SubstituteLam), reflect.ValueOf(impl.ApplyLam)
+	for _, v := range samplesOf(reflect.TypeFor[[]impl.Lam](), false) {
+		for k := range int64(3) {
+			same := []reflect.Value{v, reflect.ValueOf(k), v}
+			checkCall(t, "SubstituteLam", substitute, same)
+			equal := []reflect.Value{withSpare(v), same[1], withSpare(v)}
+			expect(t, resultText(substitute.Call(same)), resultText(substitute.Call(equal)))
+		}
+		x := v.Interface().([]impl.Lam)
+		for _, args := range [][][]impl.Lam{{x}, {x, x}, {x, x, x, x}} {
+			same := []reflect.Value{v, reflect.ValueOf(args)}
+			checkCall(t, "ApplyLam", apply, same)
+			equal := []reflect.Value{withSpare(v), withSpare(same[1])}
+			expect(t, resultText(apply.Call(same)), resultText(apply.Call(equal)))
 		}
 	}
 }

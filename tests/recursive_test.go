@@ -75,7 +75,8 @@ var someFuncTexts = []string{
 }
 
 func sampleFuncs() [][]impl.Func {
-	all := append(badFuncs()[:60], longFunc(0, 59), longFunc(1, 60), longFunc(4, 58), longFunc(2, 57))
+	bad := slices.DeleteFunc(badFuncs(), func(f []impl.Func) bool { return len(f) > mostNodes+1 })
+	all := append(bad[:60], longFunc(0, 59), longFunc(1, 60), longFunc(4, 58), longFunc(2, 57))
 	for _, s := range someFuncTexts {
 		f, _ := impl.ReadFunc(s)
 		all = append(all, f)

@@ -394,6 +394,7 @@ func TestPromise8SingleSteps(t *testing.T) {
 
 // Runs of each length up to one that is too long are compared with the model: where they end, and what is on the way.
 func TestPromise8RunsAreThoseOfTheModel(t *testing.T) {
+	t.Parallel()
 	forSomePrograms(83, 600, func(_ *rand.Rand, p []impl.Instr, x impl.Store) {
 		programCalls.expectRuns(t, p, newStoreModel(p, x))
 	})

@@ -256,6 +256,7 @@ func plainApplied(list []impl.Rewrite, w []int64) map[[2]int64]string {
 }
 
 func TestPromise11ApplyAsByModel(t *testing.T) {
+	t.Parallel()
 	check := func(_ *rand.Rand, list []impl.Rewrite, w []int64) {
 		rules, letters := int64(len(list)), int64(len(w))
 		results := plainApplied(list, w)
@@ -387,6 +388,7 @@ func TestPromise11NormalWords(t *testing.T) {
 
 // A walk takes any of the steps that there are; its steps are a derivation of each word that it comes to.
 func TestPromise11WalksAreDerivations(t *testing.T) {
+	t.Parallel()
 	long := 0
 	check := func(random *rand.Rand, list []impl.Rewrite, w []int64) {
 		var steps [][]int64

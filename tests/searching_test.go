@@ -121,6 +121,7 @@ func reverseOf(w []int64) []int64 {
 }
 
 func TestPromise11SearchesAsByModel(t *testing.T) {
+	t.Parallel()
 	var complete, stopped, full, missed int
 	check := func(random *rand.Rand, list []impl.Rewrite, w []int64) {
 		for _, budget := range []int{1 + random.Intn(12), impl.MaxBudget} {
@@ -151,6 +152,7 @@ func TestPromise11SearchesAsByModel(t *testing.T) {
 }
 
 func TestPromise11JoinableAsByModel(t *testing.T) {
+	t.Parallel()
 	counts := map[string]int{}
 	check := func(random *rand.Rand, list []impl.Rewrite, a []int64) {
 		b := someTagWord(random, 3, max(0, len(a)-3+random.Intn(7)))
@@ -207,6 +209,7 @@ func lineWord(zeros, behind int) []int64 {
 }
 
 func TestPromise11EndsOfSearches(t *testing.T) {
+	t.Parallel()
 	list := rewritesOf(t, "01>10")
 	for _, zeros := range []int{0, 1, 2, 17, 297, 298, 299, 300, 301, 399} {
 		for _, budget := range []int{1, 2, zeros - 1, zeros, zeros + 1, zeros + 2, 298, 299, 300, 301, impl.MaxBudget} {

@@ -324,6 +324,7 @@ func TestPromise10HaltingWords(t *testing.T) {
 }
 
 func TestPromise10TagsRunAsTheModel(t *testing.T) {
+	t.Parallel()
 	forSomeTags(101, 250, 0, func(_ *rand.Rand, tag impl.Tag, w []int64) {
 		tagCalls.expectRuns(t, tag, newTagModel(tag, w))
 	})
@@ -331,6 +332,7 @@ func TestPromise10TagsRunAsTheModel(t *testing.T) {
 
 // Near the greatest length, runs come to where the model has no place for more.
 func TestPromise10LongTagWords(t *testing.T) {
+	t.Parallel()
 	forSomeTags(102, 8, 991, func(_ *rand.Rand, tag impl.Tag, w []int64) {
 		tagCalls.expectRuns(t, tag, newTagModel(tag, w))
 	})
@@ -347,6 +349,7 @@ func TestPromise10LongTagWords(t *testing.T) {
 
 // In a long run, the letters go past every place at which words may be kept.
 func TestPromise10LongTagRuns(t *testing.T) {
+	t.Parallel()
 	for _, s := range []string{"2:0.1,1.0:-", "3:1.2.0,2.0.1,0.1.2:-", "1:1,2,0:-", "4:0.1.1.0,1.1.0.1:-", "2:0.0.1,1:-", "3:0.0,1.1.0.1:-"} {
 		tag := tagOf(t, s)
 		for _, length := range []int{5, 500, 997, 999, 1000} {
@@ -573,6 +576,7 @@ func expectCycle(t *testing.T, tag impl.Tag, w []int64, before, length int64) {
 }
 
 func TestPromise10CyclesComeAgain(t *testing.T) {
+	t.Parallel()
 	found := 0
 	forSomeTags(109, 1000, 3, func(_ *rand.Rand, tag impl.Tag, w []int64) {
 		before, length, code := impl.TagCycle(tag, w, 2000)
@@ -614,6 +618,7 @@ func TestPromise10SomeCycles(t *testing.T) {
 
 // A ladder takes each letter of a word one step further while it turns the word once.
 func TestPromise10LongCycles(t *testing.T) {
+	t.Parallel()
 	for _, c := range []struct {
 		letters, back, many int64
 		before, length      int64
@@ -658,6 +663,7 @@ func collatzAfter(n int64) (numbers []int64, steps int64, short bool) {
 }
 
 func TestPromise10CollatzNumbersFollow(t *testing.T) {
+	t.Parallel()
 	found := 0
 	for n := int64(1); n <= 1000; n += 1 + n/60 {
 		numbers, steps, short := collatzAfter(n)

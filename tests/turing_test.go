@@ -406,6 +406,7 @@ func TestPromise6OtherConfigs(t *testing.T) {
 }
 
 func TestPromise6StepsAreThoseOfTheModel(t *testing.T) {
+	t.Parallel()
 	forSome(62, 2000, func(_ *rand.Rand, m impl.Machine, c impl.Config) {
 		x := newModel(m, c)
 		for range 40 {
@@ -423,6 +424,7 @@ func TestPromise6StepsAreThoseOfTheModel(t *testing.T) {
 
 // Runs of each length up to one that is too long are compared with the model: where they end, what they use, and what is on the way.
 func TestPromise6RunsAreThoseOfTheModel(t *testing.T) {
+	t.Parallel()
 	forSome(63, 300, func(_ *rand.Rand, m impl.Machine, c impl.Config) {
 		x := newModel(m, c)
 		trace, used := []impl.Config{x.config()}, map[int64]bool{}
@@ -533,6 +535,7 @@ func TestPromise6FullTapes(t *testing.T) {
 
 // Near the greatest number of cells, also those count that have become blank again.
 func TestPromise6NearlyFullTapes(t *testing.T) {
+	t.Parallel()
 	random := rand.New(rand.NewSource(69))
 	for range 300 {
 		m := randomMachine(random, 2+random.Int63n(2), 2+random.Int63n(3), 40)
